@@ -1,0 +1,159 @@
+package tests
+
+import (
+	"bytes"
+	"slices"
+	"testing"
+
+	"loop.example/g00094/impl"
+)
+
+const spare = "spare room"
+
+// roomy is m with spare room behind each list, in which lies what would make it another module.
+func roomy(m impl.Module) impl.Module {
+	out := impl.Module{
+		Texts: append(slices.Clone(m.Texts), spare, "\"")[:len(m.Texts)],
+		Funcs: append(slices.Clone(m.Funcs), impl.Func{Params: -1}, impl.Func{})[:len(m.Funcs)],
+	}
+	for i, f := range m.Funcs {
+		out.Funcs[i].Code = append(slices.Clone(f.Code), ins(-1, -1), ins(99, 99))[:len(f.Code)]
+	}
+	return out
+}
+
+// untouched tells whether m and the spare room behind its lists are as roomy made them.
+func untouched(m impl.Module, was impl.Module) bool {
+	n := len(was.Texts)
+	if !sameModule(m, was) || m.Texts[:n+2][n] != spare || m.Texts[:n+2][n+1] != "\"" {
+		return false
+	}
+	n = len(was.Funcs)
+	if m.Funcs[:n+2][n].Params != -1 || m.Funcs[:n+2][n+1].Code != nil {
+		return false
+	}
+	for _, f := range m.Funcs {
+		n = len(f.Code)
+		if f.Code[:n+2][n] != ins(-1, -1) || f.Code[:n+2][n+1] != ins(99, 99) {
+			return false
+		}
+	}
+	return true
+}
+
+func TestModulesAreNotWrittenInto(t *testing.T) {
+	modules := someModules()
+	for _, m := range wrongModules() {
+		modules = append(modules, m)
+	}
+	for _, was := range modules {
+		m := roomy(was)
+		for op := range 28 {
+			for _, a := range []int{-1, 0, len(was.Texts), len(was.Funcs)} {
+				if impl.InsOk(m, 0, ins(op, a)) != impl.InsOk(cloneModule(was), 0, ins(op, a)) {
+					t.Errorf("InsOk of %d, %d reads behind a list of %v", op, a, was)
+				}
+			}
+		}
+		if impl.ModuleOk(m) != impl.ModuleOk(cloneModule(was)) {
+			t.Errorf("ModuleOk reads behind a list of %v", was)
+		}
+		if !bytes.Equal(impl.Save(m), impl.Save(cloneModule(was))) {
+			t.Errorf("Save reads behind a list of %v", was)
+		}
+		if !untouched(m, was) {
+			t.Errorf("%v was written into", was)
+		}
+	}
+}
+
+func TestBytesAreNotWrittenInto(t *testing.T) {
+	inputs := [][]byte{nil, {128}, {0, 0}}
+	for _, m := range someModules() {
+		b := told(m)
+		inputs = append(inputs, b, b[:len(b)-1], append(slices.Clone(b), 0))
+	}
+	for _, was := range inputs {
+		wide := append(slices.Clone(was), 0, 50, 0, 7)
+		b := wide[:len(was)]
+		m, ok := impl.Load(b)
+		x, okX := impl.Load(slices.Clip(slices.Clone(was)))
+		if ok != okX || !sameModule(m, x) {
+			t.Errorf("Load reads behind %v", was)
+		}
+		if !bytes.Equal(wide, append(slices.Clone(was), 0, 50, 0, 7)) {
+			t.Errorf("Load writes into %v, or behind it", was)
+		}
+	}
+}
+
+func TestWhatIsLoadedIsNewMemory(t *testing.T) {
+	for _, was := range someModules() {
+		b := impl.Save(was)
+		m, _ := impl.Load(b)
+		other, _ := impl.Load(b)
+		clear(b)
+		if !sameModule(m, was) {
+			t.Errorf("%v hangs on the bytes it was loaded from", was)
+		}
+		fillLists(m)
+		if !sameModule(other, was) {
+			t.Errorf("%v shares memory with what was loaded ahead of it", was)
+		}
+		again, ok := impl.Load(told(was))
+		if !ok || !sameModule(again, was) {
+			t.Errorf("%v is loaded otherwise later on", was)
+		}
+	}
+}
+
+// fillLists writes over all that m's lists have, up to their capacity.
+func fillLists(m impl.Module) {
+	for _, f := range m.Funcs {
+		code := f.Code[:cap(f.Code)]
+		for i := range code {
+			code[i] = ins(-5, -5)
+		}
+	}
+	for i := range m.Texts[:cap(m.Texts)] {
+		m.Texts[:cap(m.Texts)][i] = "other"
+	}
+	clear(m.Funcs[:cap(m.Funcs)])
+}
+
+func TestTheListsOfAnAnswerShareNothing(t *testing.T) {
+	for _, was := range append(someModules(), greatest()) {
+		m, _ := impl.Load(told(was))
+		for f := range m.Funcs {
+			code := m.Funcs[f].Code
+			code = code[:cap(code)]
+			for i := range code {
+				code[i] = ins(-7, f)
+			}
+		}
+		for f := range m.Funcs {
+			for _, x := range m.Funcs[f].Code {
+				if x != ins(-7, f) {
+					t.Fatalf("two lists of code share memory: %v", was)
+				}
+			}
+		}
+	}
+}
+
+func TestWhatIsSavedIsNewMemory(t *testing.T) {
+	for _, was := range someModules() {
+		m := cloneModule(was)
+		b := impl.Save(m)
+		first := slices.Clone(b)
+		clear(b[:cap(b)])
+		if !sameModule(m, was) || !bytes.Equal(impl.Save(m), first) {
+			t.Errorf("%v shares memory with its bytes", was)
+		}
+		saved := impl.Save(m)
+		fillLists(m)
+		if !bytes.Equal(saved, first) {
+			t.Errorf("the bytes of %v hang on the module", was)
+		}
+	}
+}
