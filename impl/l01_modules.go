@@ -92,10 +92,20 @@ func argBounds(m Module, f Func, op int) (int, int) {
 		return 0, MaxFields
 	case OpCall:
 		return 0, MaxParams + 1
-	case OpNil, OpDup, OpDrop, OpSwap, OpAdd, OpSub, OpMul, OpLess, OpSame, OpNot, OpReturn, OpPrint:
+	}
+	if bareOp(op) {
 		return 0, 1
 	}
 	return 0, 0
+}
+
+// bareOp tells whether an Op's A says nothing, being always 0.
+func bareOp(op int) bool {
+	switch op {
+	case OpNil, OpDup, OpDrop, OpSwap, OpAdd, OpSub, OpMul, OpLess, OpSame, OpNot, OpReturn, OpPrint:
+		return true
+	}
+	return false
 }
 
 // ModuleOk tells whether m keeps the limits of a module, text by text and function by function.

@@ -64,6 +64,32 @@ func greatest() impl.Module {
 	return m
 }
 
+// limit is a module that meets a limit, and one that passes it by one.
+type limit struct {
+	name string
+	at   impl.Module
+	past impl.Module
+}
+
+func limitsOfModules() []limit {
+	return []limit{
+		{"fewest functions", manyFuncs(1), manyFuncs(0)},
+		{"MaxFuncs", manyFuncs(impl.MaxFuncs), manyFuncs(impl.MaxFuncs + 1)},
+		{"fewest instructions", one(nils(1)...), one()},
+		{"MaxCode", one(nils(impl.MaxCode)...), one(nils(impl.MaxCode + 1)...)},
+		{"MaxLocals", withRoom(0, impl.MaxLocals), withRoom(0, impl.MaxLocals+1)},
+		{"MaxParams", withRoom(impl.MaxParams, impl.MaxLocals), withRoom(impl.MaxParams+1, impl.MaxLocals)},
+		{"MaxTexts", withTexts(make([]string, impl.MaxTexts)...), withTexts(make([]string, impl.MaxTexts+1)...)},
+		{"MaxText", withTexts("", strings.Repeat("x", impl.MaxText)), withTexts("", strings.Repeat("x", impl.MaxText+1))},
+		{"MaxNum", one(ins(impl.OpInt, impl.MaxNum)), one(ins(impl.OpInt, impl.MaxNum+1))},
+		{"-MaxNum", one(ins(impl.OpInt, -impl.MaxNum)), one(ins(impl.OpInt, -impl.MaxNum-1))},
+		{"MaxFields of new", one(ins(impl.OpNew, impl.MaxFields)), one(ins(impl.OpNew, impl.MaxFields+1))},
+		{"MaxFields of get", one(ins(impl.OpGet, impl.MaxFields-1)), one(ins(impl.OpGet, impl.MaxFields))},
+		{"MaxFields of put", one(ins(impl.OpPut, impl.MaxFields-1)), one(ins(impl.OpPut, impl.MaxFields))},
+		{"MaxParams of call", one(ins(impl.OpCall, impl.MaxParams)), one(ins(impl.OpCall, impl.MaxParams+1))},
+	}
+}
+
 // tell is the library's own form of a number in groups of 7 bits.
 func tell(n int) []byte { return binary.AppendVarint(nil, int64(n)) }
 

@@ -4,6 +4,7 @@ import (
 	"bytes"
 	"slices"
 	"testing"
+	"unsafe"
 
 	"loop.example/g00094/impl"
 )
@@ -61,6 +62,9 @@ func TestModulesAreNotWrittenInto(t *testing.T) {
 		if !bytes.Equal(impl.Save(m), impl.Save(cloneModule(was))) {
 			t.Errorf("Save reads behind a list of %v", was)
 		}
+		if impl.ShowModule(m) != impl.ShowModule(cloneModule(was)) {
+			t.Errorf("ShowModule reads behind a list of %v", was)
+		}
 		if !untouched(m, was) {
 			t.Errorf("%v was written into", was)
 		}
@@ -91,18 +95,49 @@ func TestWhatIsLoadedIsNewMemory(t *testing.T) {
 	for _, was := range someModules() {
 		b := impl.Save(was)
 		m, _ := impl.Load(b)
-		other, _ := impl.Load(b)
 		clear(b)
 		if !sameModule(m, was) {
 			t.Errorf("%v hangs on the bytes it was loaded from", was)
 		}
-		fillLists(m)
-		if !sameModule(other, was) {
-			t.Errorf("%v shares memory with what was loaded ahead of it", was)
+	}
+}
+
+// A string cannot be written into, so where its bytes lie is asked.
+func TestWhatIsReadIsNewMemory(t *testing.T) {
+	for _, was := range append(someModules(), everyOp(), greatest()) {
+		text := shown(was)
+		first := uintptr(unsafe.Pointer(unsafe.StringData(text)))
+		m, _ := impl.ReadModule(text)
+		for _, x := range m.Texts {
+			at := uintptr(unsafe.Pointer(unsafe.StringData(x)))
+			if x != "" && at >= first && at < first+uintptr(len(text)) {
+				t.Errorf("%q lies in the text it was read from", x)
+			}
 		}
-		again, ok := impl.Load(told(was))
-		if !ok || !sameModule(again, was) {
-			t.Errorf("%v is loaded otherwise later on", was)
+	}
+}
+
+// makers are the ways in which a module that is answered comes about.
+func makers() map[string]func(impl.Module) (impl.Module, bool) {
+	return map[string]func(impl.Module) (impl.Module, bool){
+		"Load":       func(m impl.Module) (impl.Module, bool) { return impl.Load(told(m)) },
+		"ReadModule": func(m impl.Module) (impl.Module, bool) { return impl.ReadModule(shown(m)) },
+	}
+}
+
+func TestModulesThatAreAnsweredAreKeptApart(t *testing.T) {
+	for name, makeOne := range makers() {
+		for _, was := range append(someModules(), everyOp(), greatest()) {
+			m, _ := makeOne(was)
+			other, _ := makeOne(was)
+			fillLists(m)
+			if !sameModule(other, was) {
+				t.Errorf("%s: %v shares memory with what was answered ahead of it", name, was)
+			}
+			again, ok := makeOne(was)
+			if !ok || !sameModule(again, was) {
+				t.Errorf("%s: %v is answered otherwise later on", name, was)
+			}
 		}
 	}
 }
@@ -122,19 +157,21 @@ func fillLists(m impl.Module) {
 }
 
 func TestTheListsOfAnAnswerShareNothing(t *testing.T) {
-	for _, was := range append(someModules(), greatest()) {
-		m, _ := impl.Load(told(was))
-		for f := range m.Funcs {
-			code := m.Funcs[f].Code
-			code = code[:cap(code)]
-			for i := range code {
-				code[i] = ins(-7, f)
+	for name, makeOne := range makers() {
+		for _, was := range append(someModules(), everyOp(), greatest()) {
+			m, _ := makeOne(was)
+			for f := range m.Funcs {
+				code := m.Funcs[f].Code
+				code = code[:cap(code)]
+				for i := range code {
+					code[i] = ins(-7, f)
+				}
 			}
-		}
-		for f := range m.Funcs {
-			for _, x := range m.Funcs[f].Code {
-				if x != ins(-7, f) {
-					t.Fatalf("two lists of code share memory: %v", was)
+			for f := range m.Funcs {
+				for _, x := range m.Funcs[f].Code {
+					if x != ins(-7, f) {
+						t.Fatalf("%s: two lists of code share memory: %v", name, was)
+					}
 				}
 			}
 		}
@@ -154,6 +191,17 @@ func TestWhatIsSavedIsNewMemory(t *testing.T) {
 		fillLists(m)
 		if !bytes.Equal(saved, first) {
 			t.Errorf("the bytes of %v hang on the module", was)
+		}
+	}
+}
+
+func TestWhatIsShownIsNewMemory(t *testing.T) {
+	for _, was := range someModules() {
+		m := cloneModule(was)
+		text := impl.ShowModule(m)
+		fillLists(m)
+		if text != shown(was) {
+			t.Errorf("the text of %v hangs on the module", was)
 		}
 	}
 }

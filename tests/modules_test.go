@@ -3,7 +3,6 @@ package tests
 import (
 	"math"
 	"slices"
-	"strings"
 	"testing"
 
 	"loop.example/g00094/impl"
@@ -100,26 +99,7 @@ func TestInsOkOfAModuleThatIsNotOk(t *testing.T) {
 }
 
 func TestModuleOkAtEachLimit(t *testing.T) {
-	for _, x := range []struct {
-		name string
-		at   impl.Module
-		past impl.Module
-	}{
-		{"fewest functions", manyFuncs(1), manyFuncs(0)},
-		{"MaxFuncs", manyFuncs(impl.MaxFuncs), manyFuncs(impl.MaxFuncs + 1)},
-		{"fewest instructions", one(nils(1)...), one()},
-		{"MaxCode", one(nils(impl.MaxCode)...), one(nils(impl.MaxCode + 1)...)},
-		{"MaxLocals", withRoom(0, impl.MaxLocals), withRoom(0, impl.MaxLocals+1)},
-		{"MaxParams", withRoom(impl.MaxParams, impl.MaxLocals), withRoom(impl.MaxParams+1, impl.MaxLocals)},
-		{"MaxTexts", withTexts(make([]string, impl.MaxTexts)...), withTexts(make([]string, impl.MaxTexts+1)...)},
-		{"MaxText", withTexts("", strings.Repeat("x", impl.MaxText)), withTexts("", strings.Repeat("x", impl.MaxText+1))},
-		{"MaxNum", one(ins(impl.OpInt, impl.MaxNum)), one(ins(impl.OpInt, impl.MaxNum+1))},
-		{"-MaxNum", one(ins(impl.OpInt, -impl.MaxNum)), one(ins(impl.OpInt, -impl.MaxNum-1))},
-		{"MaxFields of new", one(ins(impl.OpNew, impl.MaxFields)), one(ins(impl.OpNew, impl.MaxFields+1))},
-		{"MaxFields of get", one(ins(impl.OpGet, impl.MaxFields-1)), one(ins(impl.OpGet, impl.MaxFields))},
-		{"MaxFields of put", one(ins(impl.OpPut, impl.MaxFields-1)), one(ins(impl.OpPut, impl.MaxFields))},
-		{"MaxParams of call", one(ins(impl.OpCall, impl.MaxParams)), one(ins(impl.OpCall, impl.MaxParams+1))},
-	} {
+	for _, x := range limitsOfModules() {
 		if !impl.ModuleOk(x.at) {
 			t.Errorf("%s: met, and refused", x.name)
 		}
