@@ -4,7 +4,6 @@ import (
 	"bytes"
 	"encoding/binary"
 	"math"
-	"math/rand"
 	"slices"
 	"testing"
 
@@ -60,12 +59,7 @@ func TestSaveOfAModuleWrittenOut(t *testing.T) {
 }
 
 func TestModulesThereAndBack(t *testing.T) {
-	r := rand.New(rand.NewSource(1))
-	modules := append(someModules(), greatest())
-	for range 3000 {
-		modules = append(modules, randomModule(r))
-	}
-	for i, m := range modules {
+	for i, m := range manyModules() {
 		b := impl.Save(m)
 		if !bytes.Equal(b, told(m)) || len(b) == 0 {
 			t.Fatalf("module %d, %v: saved as %v", i, m, b)

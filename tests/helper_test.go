@@ -176,6 +176,40 @@ func randomModule(r *rand.Rand) impl.Module {
 	return m
 }
 
+// manyModules are ok: ordinary ones, the greatest, and random ones.
+func manyModules() []impl.Module {
+	r := rand.New(rand.NewSource(1))
+	modules := append(someModules(), greatest())
+	for range 3000 {
+		modules = append(modules, randomModule(r))
+	}
+	return modules
+}
+
+// changed is the sample with another instruction somewhere, and whether it is ok so.
+type changed struct {
+	m  impl.Module
+	x  impl.Ins
+	ok bool
+}
+
+// changedSamples have at each place each Op, with As at both ends of its row and one past them.
+func changedSamples() []changed {
+	var out []changed
+	for f := range sample().Funcs {
+		for at := range sample().Funcs[f].Code {
+			for _, x := range tableOf(sample(), f) {
+				for _, a := range []int{x.least - 1, x.least, x.most, x.most + 1} {
+					m := sample()
+					m.Funcs[f].Code[at] = ins(x.op, a)
+					out = append(out, changed{m, ins(x.op, a), a >= x.least && a <= x.most})
+				}
+			}
+		}
+	}
+	return out
+}
+
 func mustBeZero(t *testing.T, name string, m impl.Module, ok bool) {
 	t.Helper()
 	if ok || m.Texts != nil || m.Funcs != nil {

@@ -157,22 +157,13 @@ func TestModuleOkOfEachByteInAText(t *testing.T) {
 }
 
 func TestModuleOkOfEachInstruction(t *testing.T) {
-	for f := range sample().Funcs {
-		for at := range sample().Funcs[f].Code {
-			for _, x := range tableOf(sample(), f) {
-				for _, a := range []int{x.least - 1, x.least, x.most, x.most + 1} {
-					m := sample()
-					m.Funcs[f].Code[at] = ins(x.op, a)
-					want := a >= x.least && a <= x.most
-					if impl.ModuleOk(m) != want {
-						t.Errorf("function %d, instruction %d: Op %d, A %d: not %v", f, at, x.op, a, want)
-					}
-					y, ok := impl.Load(told(m))
-					if ok != want || ok && !sameModule(y, m) {
-						t.Errorf("function %d, instruction %d: Op %d, A %d: loaded as %v, %v", f, at, x.op, a, y, ok)
-					}
-				}
-			}
+	for _, c := range changedSamples() {
+		if impl.ModuleOk(c.m) != c.ok {
+			t.Errorf("%v in %v: not %v", c.x, c.m, c.ok)
+		}
+		y, ok := impl.Load(told(c.m))
+		if ok != c.ok || ok && !sameModule(y, c.m) {
+			t.Errorf("%v in %v: loaded as %v, %v", c.x, c.m, y, ok)
 		}
 	}
 }

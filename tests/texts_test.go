@@ -3,7 +3,6 @@ package tests
 import (
 	"fmt"
 	"math"
-	"math/rand"
 	"regexp"
 	"slices"
 	"strconv"
@@ -179,12 +178,7 @@ func TestModulesWrittenOut(t *testing.T) {
 }
 
 func TestModulesShownAndRead(t *testing.T) {
-	r := rand.New(rand.NewSource(2))
-	modules := append(someModules(), greatest())
-	for range 3000 {
-		modules = append(modules, randomModule(r))
-	}
-	for _, m := range modules {
+	for _, m := range manyModules() {
 		checkBothWays(t, m, shown(m))
 	}
 }
@@ -201,24 +195,16 @@ func TestTextsOfEachLimit(t *testing.T) {
 }
 
 func TestTextsOfEachInstruction(t *testing.T) {
-	for f := range sample().Funcs {
-		for at := range sample().Funcs[f].Code {
-			for _, x := range tableOf(sample(), f) {
-				for _, a := range []int{x.least - 1, x.least, x.most, x.most + 1} {
-					m := sample()
-					m.Funcs[f].Code[at] = ins(x.op, a)
-					if a >= x.least && a <= x.most {
-						checkBothWays(t, m, shown(m))
-						continue
-					}
-					if text := impl.ShowModule(m); text != "" {
-						t.Errorf("Op %d, A %d: shown as %q", x.op, a, text)
-					}
-					y, ok := impl.ReadModule(shown(m))
-					mustBeZero(t, shown(m), y, ok)
-				}
-			}
+	for _, c := range changedSamples() {
+		if c.ok {
+			checkBothWays(t, c.m, shown(c.m))
+			continue
 		}
+		if text := impl.ShowModule(c.m); text != "" {
+			t.Errorf("%v: shown as %q", c.x, text)
+		}
+		y, ok := impl.ReadModule(shown(c.m))
+		mustBeZero(t, shown(c.m), y, ok)
 	}
 }
 
