@@ -43,7 +43,7 @@ func untouched(m impl.Module, was impl.Module) bool {
 }
 
 func TestModulesAreNotWrittenInto(t *testing.T) {
-	modules := someModules()
+	modules := append(someModules(), several(), one(dropIns), one(nilIns))
 	for _, m := range wrongModules() {
 		modules = append(modules, m)
 	}
@@ -54,6 +54,8 @@ func TestModulesAreNotWrittenInto(t *testing.T) {
 				if impl.InsOk(m, 0, ins(op, a)) != impl.InsOk(cloneModule(was), 0, ins(op, a)) {
 					t.Errorf("InsOk of %d, %d reads behind a list of %v", op, a, was)
 				}
+				takes, lays := usesOf(cloneModule(was), ins(op, a))
+				checkUses(t, m, ins(op, a), takes, lays)
 			}
 		}
 		if impl.ModuleOk(m) != impl.ModuleOk(cloneModule(was)) {
@@ -64,6 +66,14 @@ func TestModulesAreNotWrittenInto(t *testing.T) {
 		}
 		if impl.ShowModule(m) != impl.ShowModule(cloneModule(was)) {
 			t.Errorf("ShowModule reads behind a list of %v", was)
+		}
+		if impl.Verify(m) != impl.Verify(cloneModule(was)) {
+			t.Errorf("Verify reads behind a list of %v", was)
+		}
+		for f := -1; f <= len(was.Funcs); f++ {
+			if !slices.Equal(impl.DepthsOf(m, f), impl.DepthsOf(cloneModule(was), f)) {
+				t.Errorf("DepthsOf reads behind a list of %v", was)
+			}
 		}
 		if !untouched(m, was) {
 			t.Errorf("%v was written into", was)
@@ -202,6 +212,31 @@ func TestWhatIsShownIsNewMemory(t *testing.T) {
 		fillLists(m)
 		if text != shown(was) {
 			t.Errorf("the text of %v hangs on the module", was)
+		}
+	}
+}
+
+func TestHeightsThatAreAnsweredAreKeptApart(t *testing.T) {
+	for _, was := range append(someModules(), several(), greatest()) {
+		m := cloneModule(was)
+		for f := range m.Funcs {
+			want := depthsByLaw(was, f)
+			first := impl.DepthsOf(m, f)
+			other := impl.DepthsOf(m, f)
+			for i := range first[:cap(first)] {
+				first[:cap(first)][i] = -9
+			}
+			if !slices.Equal(other, want) || !slices.Equal(impl.DepthsOf(m, f), want) {
+				t.Errorf("%v: heights share memory with those answered ahead of them", was)
+			}
+			if !sameModule(m, was) || impl.Verify(m) != verifyByLaw(was) {
+				t.Errorf("%v: the module hangs on its heights", was)
+			}
+		}
+		heights := impl.DepthsOf(m, 0)
+		fillLists(m)
+		if !slices.Equal(heights, depthsByLaw(was, 0)) {
+			t.Errorf("the heights of %v hang on the module", was)
 		}
 	}
 }
