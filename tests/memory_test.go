@@ -3,6 +3,7 @@ package tests
 import (
 	"bytes"
 	"slices"
+	"strings"
 	"testing"
 	"unsafe"
 
@@ -75,6 +76,11 @@ func TestModulesAreNotWrittenInto(t *testing.T) {
 				t.Errorf("DepthsOf reads behind a list of %v", was)
 			}
 		}
+		for _, v := range []impl.Value{{}, fun(0), fun(len(was.Funcs) - 1), fun(len(was.Funcs)), text("a"), rec(0)} {
+			if impl.ValueOk(m, v, 1) != impl.ValueOk(cloneModule(was), v, 1) {
+				t.Errorf("ValueOk of %v reads behind a list of %v", v, was)
+			}
+		}
 		if !untouched(m, was) {
 			t.Errorf("%v was written into", was)
 		}
@@ -112,15 +118,20 @@ func TestWhatIsLoadedIsNewMemory(t *testing.T) {
 	}
 }
 
-// A string cannot be written into, so where its bytes lie is asked.
+// liesIn tells whether the bytes of x are among those of whole. A string cannot be written into, so where its
+// bytes lie is asked.
+func liesIn(x string, whole string) bool {
+	first := uintptr(unsafe.Pointer(unsafe.StringData(whole)))
+	at := uintptr(unsafe.Pointer(unsafe.StringData(x)))
+	return x != "" && at >= first && at < first+uintptr(len(whole))
+}
+
 func TestWhatIsReadIsNewMemory(t *testing.T) {
 	for _, was := range append(someModules(), everyOp(), greatest()) {
 		text := shown(was)
-		first := uintptr(unsafe.Pointer(unsafe.StringData(text)))
 		m, _ := impl.ReadModule(text)
 		for _, x := range m.Texts {
-			at := uintptr(unsafe.Pointer(unsafe.StringData(x)))
-			if x != "" && at >= first && at < first+uintptr(len(text)) {
+			if liesIn(x, text) {
 				t.Errorf("%q lies in the text it was read from", x)
 			}
 		}
@@ -238,5 +249,44 @@ func TestHeightsThatAreAnsweredAreKeptApart(t *testing.T) {
 		if !slices.Equal(heights, depthsByLaw(was, 0)) {
 			t.Errorf("the heights of %v hang on the module", was)
 		}
+	}
+}
+
+func TestTextsOfValuesAreNewMemory(t *testing.T) {
+	for _, s := range []string{"", "a", xs(30), xs(60)} {
+		// A copy, as the compiler keeps texts of the program's own in one place.
+		a, b := strings.Clone(s), strings.Clone(s)
+		if v := impl.ValueText(text(a), nil); v != s || liesIn(v, a) {
+			t.Errorf("the text %q is answered with its own memory", s)
+		}
+		for _, x := range [][2]string{{a, ""}, {"", a}, {a, b}} {
+			v, _ := impl.AddOf(text(x[0]), text(x[1]))
+			if liesIn(v.S, x[0]) || liesIn(v.S, x[1]) {
+				t.Errorf("%q and %q: the sum is in their memory", x[0], x[1])
+			}
+		}
+	}
+}
+
+func TestHeapsAreNotWrittenInto(t *testing.T) {
+	was := someHeap()
+	wide := append(someHeap(), impl.Rec{Fields: []impl.Value{num(1), num(2), num(3)}}, impl.Rec{})
+	for i := range wide {
+		wide[i].Fields = append(slices.Clone(wide[i].Fields), num(-1), text(spare))[:len(wide[i].Fields)]
+	}
+	heap := wide[:len(was)]
+	for n := -1; n <= len(wide); n++ {
+		if got, want := impl.ValueText(rec(n), heap), impl.ValueText(rec(n), was); got != want {
+			t.Errorf("record %d: %q, not %q", n, got, want)
+		}
+	}
+	for i, x := range was {
+		n := len(x.Fields)
+		if !slices.Equal(heap[i].Fields, x.Fields) || !slices.Equal(heap[i].Fields[n:n+2], []impl.Value{num(-1), text(spare)}) {
+			t.Errorf("record %d was written into", i)
+		}
+	}
+	if len(wide[len(was)].Fields) != 3 || len(wide[len(was)+1].Fields) != 0 {
+		t.Error("the room behind the heap was written into")
 	}
 }
