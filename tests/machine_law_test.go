@@ -89,16 +89,21 @@ func startByLaw(m impl.Module, args []impl.Value) (impl.Vm, bool) {
 	return impl.Vm{Frames: frames(frame(0, 0, locals, nil))}, true
 }
 
-// valuesOf are all values of a state, wherever they stand.
-func valuesOf(vm impl.Vm) []impl.Value {
-	out := vals(vm.Value)
+// valueLists are all lists of values of a state, as they lie there.
+func valueLists(vm impl.Vm) [][]impl.Value {
+	var out [][]impl.Value
 	for _, f := range vm.Frames {
-		out = append(append(out, f.Locals...), f.Stack...)
+		out = append(out, f.Locals, f.Stack)
 	}
 	for _, r := range vm.Heap {
-		out = append(out, r.Fields...)
+		out = append(out, r.Fields)
 	}
 	return out
+}
+
+// valuesOf are all values of a state, wherever they stand.
+func valuesOf(vm impl.Vm) []impl.Value {
+	return append(vals(vm.Value), slices.Concat(valueLists(vm)...)...)
 }
 
 // within tells whether n is one of least .. most.
@@ -136,11 +141,15 @@ func vmOkByLaw(m impl.Module, vm impl.Vm) bool {
 }
 
 func framesByLaw(m impl.Module, list []impl.Frame) bool {
+	known := map[int][]int{}
 	for i, f := range list {
 		if !within(f.Func, 0, len(m.Funcs)-1) || len(f.Locals) != m.Funcs[f.Func].Locals {
 			return false
 		}
-		code, depths := m.Funcs[f.Func].Code, depthsByLaw(m, f.Func)
+		if known[f.Func] == nil {
+			known[f.Func] = depthsByLaw(m, f.Func)
+		}
+		code, depths := m.Funcs[f.Func].Code, known[f.Func]
 		if !within(f.Pc, 0, len(code)-1) || depths[f.Pc] == -1 {
 			return false
 		}
@@ -344,4 +353,5 @@ func checkState(t *testing.T, m impl.Module, vm impl.Vm) {
 	if ok && !impl.VmOk(m, got) {
 		t.Fatalf("Step of %+v\nof %v does not stay ok: %+v", vm, m, got)
 	}
+	checkCanon(t, m, vm)
 }

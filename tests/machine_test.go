@@ -364,11 +364,9 @@ func wrongStarts() []wrongStart {
 		{"too few", takesTwo, vals(num(1))}, {"none", takesTwo, nil}, {"too many", takesTwo, vals(num(1), num(2), num(3))},
 		{"as many as the locals", takesTwo, make([]impl.Value, 3)}, {"as many as the other function takes", takesTwo, vals()},
 		{"one for none", mod("func 0 1; nil; return"), vals(impl.Value{})},
-		{"a stack that is too low", one(dropIns), nil}, {"an end that is come to", one(nilIns), nil}, {"a join", one(nilIns, jump(0)), nil},
-		{"a fault in the other function", mod("func 0 0; nil; return; func 0 0; nil"), nil},
 		{"no module", impl.Module{}, nil},
 	}
-	for name, m := range wrongModules() {
+	for name, m := range notGood() {
 		list = append(list, wrongStart{name, m, nil})
 	}
 	bad := append(overfull(), num(1000000001), num(-1000000001), truth(2), truth(-1), text(xs(61)), text("\""), text("\n"),

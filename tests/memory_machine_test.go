@@ -34,14 +34,7 @@ func roomyVm(vm impl.Vm) impl.Vm {
 // untouchedVm tells whether vm and the spare room behind its lists are as roomyVm made them.
 func untouchedVm(vm impl.Vm, was impl.Vm) bool {
 	roomy := roomyVm(was)
-	lists := [][]impl.Value{}
-	for _, f := range vm.Frames {
-		lists = append(lists, f.Locals, f.Stack)
-	}
-	for _, r := range vm.Heap {
-		lists = append(lists, r.Fields)
-	}
-	for _, list := range lists {
+	for _, list := range valueLists(vm) {
 		if n := len(list); !slices.Equal(list[n:n+2], spareValues()) {
 			return false
 		}
@@ -53,17 +46,10 @@ func untouchedVm(vm impl.Vm, was impl.Vm) bool {
 
 // fillVm writes over all that vm's lists have, up to their capacity.
 func fillVm(vm impl.Vm) {
-	fill := func(list []impl.Value) {
+	for _, list := range valueLists(vm) {
 		for i := range list[:cap(list)] {
 			list[:cap(list)][i] = impl.Value{Kind: -5}
 		}
-	}
-	for _, f := range vm.Frames {
-		fill(f.Locals)
-		fill(f.Stack)
-	}
-	for _, r := range vm.Heap {
-		fill(r.Fields)
 	}
 	for i := range vm.Out[:cap(vm.Out)] {
 		vm.Out[:cap(vm.Out)][i] = "other"
@@ -85,6 +71,7 @@ func someStates() []stateOf {
 	out := []stateOf{
 		{stateModule(), fullState()}, {stateModule(), trappedState()}, {stateModule(), doneState()},
 		{stateModule(), late}, {stateModule(), wrong}, {one(dropIns), at(0, nil, nil, 0)}, {impl.Module{}, impl.Vm{}},
+		{alikeModule(), rich()}, {alikeModule(), richTrapped()}, {alikeModule(), richDone()},
 	}
 	r := rand.New(rand.NewSource(9))
 	for range 40 {
@@ -96,6 +83,11 @@ func someStates() []stateOf {
 	return out
 }
 
+// stateMakers are the ways in which a state comes of another one.
+func stateMakers() map[string]func(impl.Module, impl.Vm) impl.Vm {
+	return map[string]func(impl.Module, impl.Vm) impl.Vm{"Step": impl.Step, "Canon": impl.Canon}
+}
+
 func TestStatesAreNotWrittenInto(t *testing.T) {
 	for _, x := range someStates() {
 		m, vm := roomy(x.m), roomyVm(x.vm)
@@ -105,8 +97,14 @@ func TestStatesAreNotWrittenInto(t *testing.T) {
 		if got, want := impl.VmText(m, vm), impl.VmText(cloneModule(x.m), cloneVm(x.vm)); got != want {
 			t.Errorf("VmText reads behind a list of %+v", x.vm)
 		}
-		checkVm(t, "Step reads behind a list", impl.Step(m, vm), impl.Step(cloneModule(x.m), cloneVm(x.vm)))
-		if !untouched(m, x.m) || !untouchedVm(vm, x.vm) {
+		for name, makeOne := range stateMakers() {
+			checkVm(t, name+" reads behind a list", makeOne(m, vm), makeOne(cloneModule(x.m), cloneVm(x.vm)))
+		}
+		other := roomyVm(x.vm)
+		if ok := vmOkByLaw(x.m, x.vm); impl.Alike(m, vm, other) != ok || impl.Alike(m, vm, vm) != ok {
+			t.Errorf("Alike reads behind a list of %+v", x.vm)
+		}
+		if !untouched(m, x.m) || !untouchedVm(vm, x.vm) || !untouchedVm(other, x.vm) {
 			t.Errorf("%v, %+v: written into", x.m, x.vm)
 		}
 	}
@@ -133,19 +131,21 @@ func TestArgumentsAreNotWrittenInto(t *testing.T) {
 
 // What is written into a state does not show in the one that came of it, nor the other way round.
 func TestStatesBeforeAndAfterAreKeptApart(t *testing.T) {
-	for _, x := range someStates() {
-		was := roomyVm(x.vm)
-		got := impl.Step(x.m, was)
-		want := cloneVm(got)
-		other := impl.Step(x.m, was)
-		fillVm(got)
-		if !untouchedVm(was, x.vm) {
-			t.Errorf("%+v shares memory with the state behind its step", x.vm)
+	for name, makeOne := range stateMakers() {
+		for _, x := range someStates() {
+			was := roomyVm(x.vm)
+			got := makeOne(x.m, was)
+			want := cloneVm(got)
+			other := makeOne(x.m, was)
+			fillVm(got)
+			if !untouchedVm(was, x.vm) {
+				t.Errorf("%s: %+v shares memory with what came of it", name, x.vm)
+			}
+			checkVm(t, name+": two answers", other, want)
+			checkVm(t, name+": a later answer", makeOne(x.m, was), want)
+			fillVm(was)
+			checkVm(t, name+": what came of a state that was written into", other, want)
 		}
-		checkVm(t, "two answers", other, want)
-		checkVm(t, "a later answer", impl.Step(x.m, was), want)
-		fillVm(was)
-		checkVm(t, "what came of a state that was written into", other, want)
 	}
 }
 
@@ -178,14 +178,12 @@ func TestStartsAreKeptApart(t *testing.T) {
 	}
 }
 
-// listsOf are all lists of values of a state, up to their capacity.
+// listsOf are all lists of values of a state, also of what lies behind its own lists, up to their capacity.
 func listsOf(vm impl.Vm) [][]impl.Value {
-	var out [][]impl.Value
-	for _, f := range vm.Frames[:cap(vm.Frames)] {
-		out = append(out, f.Locals[:cap(f.Locals)], f.Stack[:cap(f.Stack)])
-	}
-	for _, r := range vm.Heap[:cap(vm.Heap)] {
-		out = append(out, r.Fields[:cap(r.Fields)])
+	vm.Frames, vm.Heap = vm.Frames[:cap(vm.Frames)], vm.Heap[:cap(vm.Heap)]
+	out := valueLists(vm)
+	for i, list := range out {
+		out[i] = list[:cap(list)]
 	}
 	return out
 }
@@ -193,7 +191,9 @@ func listsOf(vm impl.Vm) [][]impl.Value {
 func TestTheListsOfAStateShareNothing(t *testing.T) {
 	answers := []impl.Vm{}
 	for _, x := range someStates() {
-		answers = append(answers, impl.Step(x.m, x.vm))
+		for _, makeOne := range stateMakers() {
+			answers = append(answers, makeOne(x.m, x.vm))
+		}
 	}
 	for _, x := range wholeRuns() {
 		for steps := range 120 {
@@ -245,10 +245,14 @@ func TestTextsOfStatesAreNewMemory(t *testing.T) {
 		}
 		vm.Value.S = strings.Clone(vm.Value.S)
 		given := append(textsOfVm(vm), m.Texts...)
-		for _, got := range append(textsOfVm(impl.Step(m, vm)), impl.VmText(m, vm)) {
+		answers := []string{impl.VmText(m, vm)}
+		for _, makeOne := range stateMakers() {
+			answers = append(answers, textsOfVm(makeOne(m, vm))...)
+		}
+		for _, got := range answers {
 			for _, whole := range given {
 				if liesIn(got, whole) {
-					t.Fatalf("%v: Step of %+v: %q is in an argument's memory", m, vm, got)
+					t.Fatalf("%v: of %+v: %q is in an argument's memory", m, vm, got)
 				}
 			}
 		}

@@ -32,17 +32,21 @@ func fullState() impl.Vm {
 	}
 }
 
-func trappedState() impl.Vm {
-	vm := fullState()
+// trappedIn is a state that runs, with a trap.
+func trappedIn(vm impl.Vm) impl.Vm {
 	vm.Status, vm.Trap = impl.StTrap, impl.TrType
 	return vm
 }
 
-func doneState() impl.Vm {
-	vm := fullState()
-	vm.Frames, vm.Status, vm.Value = nil, impl.StDone, rec(2)
+// doneWith is a state that runs, without its frames, and with an answer.
+func doneWith(vm impl.Vm, v impl.Value) impl.Vm {
+	vm.Frames, vm.Status, vm.Value = nil, impl.StDone, v
 	return vm
 }
+
+func trappedState() impl.Vm { return trappedIn(fullState()) }
+
+func doneState() impl.Vm { return doneWith(fullState(), rec(2)) }
 
 // change is what is done to a state.
 type change struct {
@@ -261,15 +265,20 @@ func TestValuesOfStates(t *testing.T) {
 	checkChanges(t, doneState, []change{{"an answer that is gone", func(vm *impl.Vm) { vm.Heap = vm.Heap[:2] }}}, false)
 }
 
-func TestStatesOfModulesThatAreNotGood(t *testing.T) {
-	vm := at(0, nil, nil, 0)
-	done := impl.Vm{Status: impl.StDone}
+// notGood are modules that are not ok, and such as are, and not good.
+func notGood() map[string]impl.Module {
 	bad := wrongModules()
 	bad["a stack that is too low"] = one(dropIns)
 	bad["an end that is come to"] = one(nilIns)
 	bad["a join"] = one(nilIns, jump(0))
 	bad["a fault in the other function"] = mod("func 0 0; nil; return; func 0 0; nil")
-	for name, m := range bad {
+	return bad
+}
+
+func TestStatesOfModulesThatAreNotGood(t *testing.T) {
+	vm := at(0, nil, nil, 0)
+	done := impl.Vm{Status: impl.StDone}
+	for name, m := range notGood() {
 		for _, x := range []impl.Vm{vm, done, {}} {
 			if impl.VmOk(m, x) || impl.VmText(m, x) != "" || !sameVm(impl.Step(m, x), impl.Vm{}) {
 				t.Errorf("%s: %+v is taken", name, x)
