@@ -188,6 +188,22 @@ func listsOf(vm impl.Vm) [][]impl.Value {
 	return out
 }
 
+// listsApart writes another number into each list of a state, and tells whether each has its own then.
+func listsApart(vm impl.Vm) bool {
+	lists := listsOf(vm)
+	for n, list := range lists {
+		for i := range list {
+			list[i] = num(n)
+		}
+	}
+	for n, list := range lists {
+		if slices.ContainsFunc(list, func(v impl.Value) bool { return v != num(n) }) {
+			return false
+		}
+	}
+	return true
+}
+
 func TestTheListsOfAStateShareNothing(t *testing.T) {
 	answers := []impl.Vm{}
 	for _, x := range someStates() {
@@ -201,16 +217,8 @@ func TestTheListsOfAStateShareNothing(t *testing.T) {
 		}
 	}
 	for _, vm := range answers {
-		lists := listsOf(vm)
-		for n, list := range lists {
-			for i := range list {
-				list[i] = num(n)
-			}
-		}
-		for n, list := range lists {
-			if slices.ContainsFunc(list, func(v impl.Value) bool { return v != num(n) }) {
-				t.Fatalf("two lists of a state share memory: %+v", vm)
-			}
+		if !listsApart(vm) {
+			t.Fatalf("two lists of a state share memory: %+v", vm)
 		}
 	}
 }
