@@ -158,7 +158,7 @@ func (a asking) makeByLaw() (impl.Fast, bool) {
 
 func (w *drafting) frame() *impl.ExFrame { return &w.now.Frames[len(w.now.Frames)-1] }
 
-// from the top of the stack down: 1 is the top.
+// at is the source that lies so deep on the stack: 1 is the top.
 func (w *drafting) at(depth int) impl.Src {
 	stack := w.frame().Stack
 	return stack[len(stack)-depth]
@@ -202,7 +202,7 @@ func (w *drafting) newNum(x impl.FOp) impl.Src {
 	return numSrc(x.D)
 }
 
-// asValue gives the register for values of what lies so deep on the stack.
+// asValue gives the register for values of a source.
 func (w *drafting) asValue(s impl.Src) int {
 	switch s.Kind {
 	case 1:
@@ -315,8 +315,11 @@ func (w *drafting) instruction(x impl.Ins) {
 		w.lays(2, w.at(1), w.at(2))
 	case 11, 12, 13, 14:
 		w.two(x.Op - 11)
-	case 15, 16:
-		w.truths(x.Op)
+	case 15:
+		w.same()
+	case 16:
+		a := w.asValue(w.at(1))
+		w.lays(1, w.newVal(impl.FOp{Op: 12, A: a, X: w.trapping()}))
 	case 17:
 		w.on(x.A)
 	case 18, 19:
@@ -369,16 +372,8 @@ func (w *drafting) two(which int) {
 	w.lays(2, w.newNum(impl.FOp{Op: 13 + which, A: bare[0], B: bare[1], X: w.trapping()}))
 }
 
-func (w *drafting) truths(op int) {
-	a, b := w.at(1), w.at(1)
-	switch {
-	case op == 16:
-		n := w.asValue(a)
-		w.lays(1, w.newVal(impl.FOp{Op: 12, A: n, X: w.trapping()}))
-		return
-	default:
-		a = w.at(2)
-	}
+func (w *drafting) same() {
+	a, b := w.at(2), w.at(1)
 	switch {
 	case a.Kind == 4 && b.Kind == 4 && a.N == b.N:
 		w.lays(2, constSrc(truth(1)))

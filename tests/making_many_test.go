@@ -161,11 +161,11 @@ func TestMakingOfManyPrograms(t *testing.T) {
 	var ops [30]int
 	var kinds [5]int
 	laid, recs, midst, dead := 0, 0, 0, 0
-	for n := range 120 {
+	for n := range 80 {
 		m := anyProgram(r, n)
 		for _, p := range somePlansOf(r, m) {
-			for lay := range 4 {
-				p.Lay, p.Bare = lay, (n/4+lay)%2 == 0
+			for how := range 8 {
+				p.Lay, p.Bare = how/2, how%2 == 1
 				for _, a := range allAskings(m, p) {
 					c, ok := checkMake(t, a)
 					if !ok {

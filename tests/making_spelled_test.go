@@ -101,7 +101,7 @@ func checkSpelled(t *testing.T, list []spelling) {
 	}
 }
 
-// bare and laying are plans without guesses.
+// bareOn and layOn are plans with these guesses: that leave records unmade, or lay functions in.
 func bareOn(list ...impl.Spec) impl.Plan { return impl.Plan{Specs: list, Bare: true} }
 
 func layOn(lay int, list ...impl.Spec) impl.Plan { return impl.Plan{Specs: list, Lay: lay} }
