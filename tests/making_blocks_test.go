@@ -160,28 +160,29 @@ func TestMakingOfBlocks(t *testing.T) {
 		{"a leader among what is not come to at all", "func 1 1; load 0; return; jump 0; if 0; nil; return", 0, impl.Plan{}, `
 			2 2
 			ret v0 @1`},
-		{"a block to which no code leads", "func 1 1; fun 0; load 0; call 1; store 0; load 0; if 8; load 0; print; load 0; if 4; nil; return", 0, impl.Plan{}, `
-			4 3
+		{"leaders to which no code leads", "func 1 1; fun 0; load 0; call 1; store 0; load 0; if 8; load 0; print; load 0; if 4; nil; return", 0, impl.Plan{}, `
+			3 3
 			exit x0 @2
-			safe x1 @4
-			box v3 n0 @5
-			if v3 5 x2 @5
-			jump 6 @6
-			jump 9 @8
-			box v3 n0 @7
-			print v3 x3 @7
-			jump 9 @8
-			box v3 n0 @9
-			if v3 12 x4 @9
-			jump 13 @10
-			jump 1 @4
-			const v3 =nil @11
+			x0 call / 0 2 v0 | =fun0 v0`},
+		{"one of two leaders to which code leads", "func 2 2; load 0; if 6; nil; call 0; store 1; jump 8; int 1; store 1; load 1; if 8; load 1; return", 0, impl.Plan{}, `
+			4 3
+			if v0 2 x0 @1
+			jump 3 @2
+			jump 4 @6
+			exit x1 @3
+			num n1 =1 @8
+			jump 6 @8
+			safe x2 @8
+			box v3 n1 @9
+			if v3 10 x3 @9
+			jump 11 @10
+			jump 6 @8
+			box v3 n1 @11
 			ret v3 @11
-			x0 call / 0 2 v0 | =fun0 v0
-			x1 pause / 0 4 n0 |
-			x2 trap / 0 5 n0 | n0
-			x3 trap / 0 7 n0 | n0
-			x4 trap / 0 9 n0 | n0`},
+			x0 trap / 0 1 v0 v1 | v0
+			x1 call / 0 3 v0 v1 | =nil
+			x2 pause / 0 8 v0 n1 |
+			x3 trap / 0 9 v0 n1 | n1`},
 	})
 }
 

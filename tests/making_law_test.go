@@ -1,6 +1,7 @@
 package tests
 
 import (
+	"maps"
 	"slices"
 	"testing"
 
@@ -25,24 +26,6 @@ func (a asking) fitsByLaw() bool {
 		slices.Contains(flowByLaw(a.m, a.f).entries, a.entry)
 }
 
-// comesByLaw tells of each instruction whether one comes to it from entry.
-func (a asking) comesByLaw() []bool {
-	code := a.m.Funcs[a.f].Code
-	comes := make([]bool, len(code))
-	comes[a.entry] = true
-	for range code {
-		for at, x := range code {
-			if comes[at] && x.Op != 17 && x.Op != 25 {
-				comes[at+1] = true
-			}
-			if comes[at] && within(x.Op, 17, 19) {
-				comes[x.A] = true
-			}
-		}
-	}
-	return comes
-}
-
 // draftWay is a way on to a block, with what is known of each position.
 type draftWay struct {
 	to      int
@@ -56,7 +39,7 @@ type drafting struct {
 	heights []int
 	base    int
 	blocks  []int
-	numbers map[int][]bool
+	numbers assignment
 	c       impl.Fast
 	now     impl.Exit
 	from    int
@@ -66,50 +49,59 @@ type drafting struct {
 	ways    []draftWay
 }
 
+// assignment is a set of positions for each leader.
+type assignment map[int][]bool
+
 func draftingOf(a asking) *drafting {
-	w := &drafting{asking: a, told: flowByLaw(a.m, a.f), heights: depthsByLaw(a.m, a.f), numbers: map[int][]bool{}}
+	w := &drafting{asking: a, told: flowByLaw(a.m, a.f), heights: depthsByLaw(a.m, a.f)}
 	w.base = a.m.Funcs[a.f].Locals + slices.Max(w.heights)
-	w.blocks = []int{a.entry}
-	for at, comes := range a.comesByLaw() {
-		if comes && at != a.entry && slices.Contains(w.told.leaders, at) {
-			w.blocks = append(w.blocks, at)
-		}
-	}
-	for _, at := range w.blocks {
-		w.numbers[at] = slices.Repeat([]bool{at != a.entry}, a.m.Funcs[a.f].Locals+w.heights[at])
-	}
+	w.numbers = w.allNumbers()
 	return w
+}
+
+// allNumbers are all positions of all leaders, but of the entry none.
+func (w *drafting) allNumbers() assignment {
+	out := assignment{}
+	for _, at := range w.told.leaders {
+		out[at] = slices.Repeat([]bool{at != w.entry}, w.m.Funcs[w.f].Locals+w.heights[at])
+	}
+	return out
 }
 
 // isNum is a number by the document's words.
 func isNum(s impl.Src) bool { return s.Kind == 3 || s.Kind == 1 && s.V.Kind == 1 }
 
-// solve lets all ways of all blocks be tried with the same sets, and then all sets become less, until none does.
-func (w *drafting) solve() {
-	for {
-		next := map[int][]bool{}
-		for at, set := range w.numbers {
-			next[at] = slices.Clone(set)
-		}
-		for _, at := range w.blocks {
-			w.ways = nil
-			w.c = impl.Fast{}
-			w.block(at)
-			for _, x := range w.ways {
-				for p, s := range x.sources {
-					next[x.to][p] = next[x.to][p] && isNum(s)
-				}
+// comesTo goes on from the entry along all ways that there are with the sets of now. It gives the blocks that are come
+// to, in order, and the positions that are numbers on each way to them; all are of a leader that no way leads to.
+func (w *drafting) comesTo() ([]int, assignment) {
+	blocks, found := []int{w.entry}, w.allNumbers()
+	for i := 0; i < len(blocks); i++ {
+		w.ways, w.c = nil, impl.Fast{}
+		w.block(blocks[i])
+		for _, x := range w.ways {
+			if !slices.Contains(blocks, x.to) {
+				blocks = append(blocks, x.to)
+			}
+			for p, s := range x.sources {
+				found[x.to][p] = found[x.to][p] && isNum(s)
 			}
 		}
-		changed := false
-		for at, set := range next {
-			changed = changed || !slices.Equal(set, w.numbers[at])
-		}
-		if !changed {
+	}
+	slices.Sort(blocks[1:])
+	return blocks, found
+}
+
+// solve lets all ways be gone with the same sets, and then takes the sets that they bring, until these are the same.
+func (w *drafting) solve() {
+	for range 5000 {
+		blocks, found := w.comesTo()
+		if maps.EqualFunc(found, w.numbers, func(a []bool, b []bool) bool { return slices.Equal(a, b) }) {
+			w.blocks = blocks
 			return
 		}
-		w.numbers = next
+		w.numbers = found
 	}
+	panic("sets that go to and fro")
 }
 
 // numbersByLaw is NumbersOf by the document's words.
@@ -120,8 +112,8 @@ func (a asking) numbersByLaw() [][]int {
 	w := draftingOf(a)
 	w.solve()
 	out := make([][]int, len(w.heights))
-	for at, set := range w.numbers {
-		for p, is := range set {
+	for _, at := range w.blocks {
+		for p, is := range w.numbers[at] {
 			if is {
 				out[at] = append(out[at], p)
 			}
@@ -265,15 +257,13 @@ func (w *drafting) block(at int) {
 	if slices.Contains(w.told.heads, at) {
 		w.op(impl.FOp{Op: 25, X: w.leaving(4, impl.Spec{})})
 	}
-	for len(w.c.Ops)-w.from <= 1500 {
-		w.instruction(w.m.Funcs[w.frame().Func].Code[w.frame().Pc])
-		if w.ended {
-			return
-		}
-		if pc := w.frame().Pc; len(w.now.Frames) == 1 && slices.Contains(w.told.leaders, pc) {
+	for first := true; !w.ended && len(w.c.Ops)-w.from <= 1500; first = false {
+		pc := w.frame().Pc
+		if !first && len(w.now.Frames) == 1 && slices.Contains(w.told.leaders, pc) {
 			w.on(pc)
 			return
 		}
+		w.instruction(w.m.Funcs[w.frame().Func].Code[pc])
 	}
 }
 
@@ -528,6 +518,81 @@ func checkPromise10(t *testing.T, a asking, c impl.Fast) {
 			t.Fatalf("%+v has an exit with too many frames or records: %+v", a, e)
 		}
 	}
+	checkBlocks(t, a, c)
+}
+
+// checkBlocks asks of code that was made that each of its blocks, but the first, is gone to by an FJump, that all its
+// ops are come to from the first one, and that NumbersOf has nothing where no block begins.
+func checkBlocks(t *testing.T, a asking, c impl.Fast) {
+	t.Helper()
+	starts := startsIn(c)
+	for _, op := range blocksIn(c)[1:] {
+		if _, ok := starts[op]; !ok {
+			t.Fatalf("%+v: no op goes to the block at op %d:\n%s", a, op, impl.FastText(a.m, c))
+		}
+	}
+	for op, comes := range opsComeTo(c) {
+		if !comes {
+			t.Fatalf("%+v: nothing comes to op %d:\n%s", a, op, impl.FastText(a.m, c))
+		}
+	}
+	for at, set := range a.numbers() {
+		begins := slices.ContainsFunc(slices.Collect(maps.Values(starts)), func(start int) bool { return start == at })
+		if len(set) > 0 && (!begins || at == a.entry) {
+			t.Fatalf("%+v: NumbersOf %v at %d, where no block begins:\n%s", a, set, at, impl.FastText(a.m, c))
+		}
+	}
+}
+
+// blocksIn are the ops at which blocks begin: the first one, and what is behind a block's last one; behind the first
+// way on of an FIf there is the second one.
+func blocksIn(c impl.Fast) []int {
+	out, second := []int{0}, -1
+	for op, x := range c.Ops {
+		if x.Op == impl.FIf {
+			second = x.B
+		}
+		ends := x.Op == impl.FJump || x.Op == impl.FExit || x.Op == impl.FRet
+		if ends && op+1 != second && op+1 < len(c.Ops) {
+			out = append(out, op+1)
+		}
+	}
+	return out
+}
+
+// startsIn are the ops that an FJump goes to, each with the instruction of the block that begins there: an FJump is the
+// last op of a way on, on which that is the last frame's.
+func startsIn(c impl.Fast) map[int]int {
+	out := map[int]int{}
+	for _, x := range c.Ops {
+		if x.Op == impl.FJump {
+			out[x.A] = x.P
+		}
+	}
+	return out
+}
+
+// opsComeTo tells of each op whether one may come to it from the first one.
+func opsComeTo(c impl.Fast) []bool {
+	out := make([]bool, len(c.Ops))
+	for work := []int{0}; len(work) > 0; {
+		op := work[0]
+		work = work[1:]
+		if out[op] {
+			continue
+		}
+		out[op] = true
+		switch x := c.Ops[op]; x.Op {
+		case impl.FJump:
+			work = append(work, x.A)
+		case impl.FIf:
+			work = append(work, op+1, x.B)
+		case impl.FExit, impl.FRet:
+		default:
+			work = append(work, op+1)
+		}
+	}
+	return out
 }
 
 // checkMake holds Make and NumbersOf of anything against the law, asks promise 10 of the code, and gives it.

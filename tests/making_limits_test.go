@@ -9,12 +9,20 @@ import (
 	"loop.example/g00094/impl"
 )
 
-// opsModule has, where functions are laid in two deep, as many ops as it is asked for ahead of what comes last: an
-// invoke of function 1 has 85 of them, one of function 2 has 12, a print has one.
+// opsCode has as many ops as it is asked for, where the functions of opsFuncs are laid in two deep and local 0 is a
+// value: an invoke of function 1 has 85 of them, one of function 2 has 12, a print has one.
+func opsCode(n int) string {
+	return strings.Repeat("load 0; invoke 1; drop; ", n/85) + strings.Repeat("load 0; invoke 2; drop; ", n%85/12) + strings.Repeat("load 0; print; ", n%85%12)
+}
+
+func opsFuncs() string {
+	return "; func 1 1; " + strings.Repeat("load 0; invoke 2; drop; ", 7) + "load 0; return; " +
+		"func 1 1; " + strings.Repeat("load 0; print; ", 11) + "load 0; return"
+}
+
+// opsModule has so many ops ahead of what comes last.
 func opsModule(n int, last string) impl.Module {
-	code := "func 1 1; " + strings.Repeat("load 0; invoke 1; drop; ", n/85) + strings.Repeat("load 0; invoke 2; drop; ", n%85/12) + strings.Repeat("load 0; print; ", n%85%12)
-	return mod(code + last + "; func 1 1; " + strings.Repeat("load 0; invoke 2; drop; ", 7) + "load 0; return; " +
-		"func 1 1; " + strings.Repeat("load 0; print; ", 11) + "load 0; return")
+	return mod("func 1 1; " + opsCode(n) + last + opsFuncs())
 }
 
 func TestMakingUpToMaxOps(t *testing.T) {
@@ -28,42 +36,6 @@ func TestMakingUpToMaxOps(t *testing.T) {
 		if want := n+1 <= impl.MaxOps; ok != want || ok && len(c.Ops) != n+1 {
 			t.Errorf("%d ops in blocks: %v, %d", n+1, ok, len(c.Ops))
 		}
-	}
-}
-
-// Where a block has more than MaxOps ops ahead of an instruction, no way leads on: of a block to which no other one
-// leads all positions are numbers then.
-func TestNumbersBehindABlockThatIsTooLong(t *testing.T) {
-	for n, led := range map[int]bool{10: true, 1499: true, 1500: true, 1501: false, 1520: false, 3000: false} {
-		for _, last := range []string{"jump 0", "bool 1; if 0"} {
-			m := opsModule(n, last+"; load 0; return")
-			code := m.Funcs[0].Code
-			to := len(code) - 2
-			at := slices.IndexFunc(code, func(x impl.Ins) bool { return within(x.Op, impl.OpJump, impl.OpIf) })
-			code[at].A = to
-			got := checkNumbers(t, asking{m, 0, 0, layOn(2)})
-			if want := map[bool]int{true: 0, false: 1}[led]; len(got[to]) != want {
-				t.Errorf("%d ops and %s: %v", n, last, got[to])
-			}
-			if _, ok := checkMake(t, asking{m, 0, 0, layOn(2)}); ok != (n == 10) {
-				t.Errorf("%d ops and %s: made %v", n, last, ok)
-			}
-		}
-	}
-	// Ahead of the last instruction there are just MaxOps: it is done, and the block ends because the next one begins.
-	m := opsModule(1500, "load 0; not; drop; load 0; if 0; load 0; return")
-	code := m.Funcs[0].Code
-	next := len(code) - 4
-	code[len(code)-3].A = next
-	if got := checkNumbers(t, asking{m, 0, 0, layOn(2)}); len(got[next]) != 1 {
-		t.Errorf("one more op ahead of a drop: %v", got[next])
-	}
-	m = opsModule(1500, "load 0; print; load 0; if 0; load 0; return")
-	code = m.Funcs[0].Code
-	next = len(code) - 4
-	code[len(code)-3].A = next
-	if got := checkNumbers(t, asking{m, 0, 0, layOn(2)}); len(got[next]) != 0 {
-		t.Errorf("one more op ahead of the next block: %v", got[next])
 	}
 }
 

@@ -160,7 +160,7 @@ func TestMakingOfManyPrograms(t *testing.T) {
 	r := rand.New(rand.NewSource(62))
 	var ops [30]int
 	var kinds [5]int
-	laid, recs, midst, dead := 0, 0, 0, 0
+	laid, recs, midst, begun, dead := 0, 0, 0, 0, 0
 	for n := range 80 {
 		m := anyProgram(r, n)
 		for _, p := range somePlansOf(r, m) {
@@ -180,7 +180,8 @@ func TestMakingOfManyPrograms(t *testing.T) {
 					}
 					laid += len(impl.LaidOf(m, c))
 					midst += min(a.entry, 1)
-					dead += blocksLeftOut(a)
+					begun += len(blocksIn(c)) - 1
+					dead += len(impl.LeadersOf(m, a.f)) - len(blocksIn(c))
 				}
 			}
 		}
@@ -195,21 +196,9 @@ func TestMakingOfManyPrograms(t *testing.T) {
 			t.Errorf("exits of each Kind %v: the programs try too little", kinds)
 		}
 	}
-	if laid < 2000 || recs < 2000 || midst < 1000 || dead < 300 {
-		t.Errorf("%d laid in, %d records, %d entries in the midst, %d leaders that are not come to: the programs try too little", laid, recs, midst, dead)
+	if laid < 2000 || recs < 2000 || midst < 1000 || begun < 20000 || dead < 5000 {
+		t.Errorf("%d laid in, %d records, %d entries in the midst, %d blocks, %d leaders at which none begins: the programs try too little", laid, recs, midst, begun, dead)
 	}
-}
-
-// blocksLeftOut tells how many leaders are not come to from the entry.
-func blocksLeftOut(a asking) int {
-	n := 0
-	comes := a.comesByLaw()
-	for _, at := range impl.LeadersOf(a.m, a.f) {
-		if !comes[at] {
-			n++
-		}
-	}
-	return n
 }
 
 // checkMadeTandem runs a program by code that was made, which is to mean the same (promises 11 and 33).

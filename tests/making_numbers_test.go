@@ -59,45 +59,43 @@ func TestNumbersWhereBlocksBegin(t *testing.T) {
 		{"no block where nobody comes to from the entry", "func 1 2; int 1; store 1; jump 3; load 0; if 3; int 1; store 1; load 0; if 7; load 1; return", 7, impl.Plan{}, nil},
 		{"the same from its beginning", "func 1 2; int 1; store 1; jump 3; load 0; if 3; int 1; store 1; load 0; if 7; load 1; return", 0, impl.Plan{}, map[int][]int{3: {1}, 5: {1}, 7: {1}, 9: {1}}},
 		{"no block at all but the entry's", "func 1 1; load 0; int 1; add; return", 0, impl.Plan{}, nil},
-		{"a block to which no code leads", "func 1 2; load 0; invoke 0; store 1; jump 4; load 1; return", 0, impl.Plan{}, map[int][]int{4: {0, 1}}},
+		{"a leader to which no code leads", "func 1 2; load 0; invoke 0; store 1; jump 4; load 1; return", 0, impl.Plan{}, nil},
 		{"a number that would be called, so that no way leads back", "func 0 1; int 1; store 0; load 0; call 0; store 0; jump 2; func 0 0; nil; return", 0, layOn(1, spec(0, 3, 2, 1)), map[int][]int{2: {0}}},
 		{"a value that is called, so that a way leads back", "func 0 1; fun 1; store 0; load 0; call 0; store 0; jump 2; func 0 0; int 1; return", 0, layOn(1, spec(0, 3, 2, 1)), nil},
 	})
 }
 
-// assignment is a set of positions for each block.
-type assignment map[int][]bool
-
-// holdsWith tells whether sets are just those positions that are numbers on each way on, at the entry none.
-func (w *drafting) holdsWith(sets assignment) bool {
+// holdsWith tells whether sets are just those positions that are numbers on each way on, at the entry none; where no
+// block begins there is nothing. It gives the blocks, too.
+func (w *drafting) holdsWith(sets assignment) ([]int, bool) {
 	w.numbers = sets
-	found := assignment{}
-	for _, at := range w.blocks {
-		found[at] = slices.Repeat([]bool{at != w.entry}, len(sets[at]))
-	}
-	for _, at := range w.blocks {
-		w.ways, w.c = nil, impl.Fast{}
-		w.block(at)
-		for _, x := range w.ways {
-			for p, s := range x.sources {
-				found[x.to][p] = found[x.to][p] && isNum(s)
-			}
+	blocks, found := w.comesTo()
+	for at, set := range sets {
+		begins := slices.Contains(blocks, at)
+		if begins && !slices.Equal(set, found[at]) || !begins && slices.Contains(set, true) {
+			return nil, false
 		}
 	}
-	for at := range sets {
-		if !slices.Equal(sets[at], found[at]) {
-			return false
+	return blocks, true
+}
+
+// toldSets are the sets that NumbersOf tells.
+func (w *drafting) toldSets(told [][]int) assignment {
+	out := w.allNumbers()
+	for at, set := range out {
+		for p := range set {
+			set[p] = slices.Contains(told[at], p)
 		}
 	}
-	return true
+	return out
 }
 
 // eachAssignment goes through all sets of a function, the entry's being empty.
 func (w *drafting) eachAssignment(do func(sets assignment)) {
 	var bits [][2]int
-	sizes := w.numbers
-	for _, at := range w.blocks {
-		for p := range sizes[at] {
+	sizes := w.allNumbers()
+	for at, set := range sizes {
+		for p := range set {
 			if at != w.entry {
 				bits = append(bits, [2]int{at, p})
 			}
@@ -116,38 +114,46 @@ func (w *drafting) eachAssignment(do func(sets assignment)) {
 }
 
 // checkGreatest goes through all sets that there could be, and asks that what is told holds, and that no other sets do
-// that have something which it has not. It gives how many hold.
-func checkGreatest(t *testing.T, a asking) int {
+// that have something at one of its blocks which it has not. It gives how many hold, and in how many of these other
+// blocks are come to.
+func checkGreatest(t *testing.T, a asking) (int, int) {
 	t.Helper()
-	told, found, holding := checkNumbers(t, a), false, 0
 	w := draftingOf(a)
+	told, holding, other := checkNumbers(t, a), 0, 0
+	blocks, ok := w.holdsWith(w.toldSets(told))
+	if !ok {
+		t.Fatalf("%+v: %v does not hold", a, told)
+	}
 	w.eachAssignment(func(sets assignment) {
-		if !w.holdsWith(sets) {
+		come, holds := w.holdsWith(sets)
+		if !holds {
 			return
 		}
 		holding++
-		same := true
-		for at, set := range sets {
-			for p, is := range set {
+		if !slices.Equal(come, blocks) {
+			other++
+		}
+		for _, at := range blocks {
+			for p, is := range sets[at] {
 				if is && !slices.Contains(told[at], p) {
 					t.Fatalf("%+v: %v, not %v, which has more", a, told, sets)
 				}
-				same = same && is == slices.Contains(told[at], p)
 			}
 		}
-		found = found || same
 	})
-	if !found {
-		t.Fatalf("%+v: %v does not hold", a, told)
-	}
-	return holding
+	return holding, other
 }
 
-// smallLoops are drawn: functions of few positions and blocks, so that all sets can be gone through.
+// smallLoops are drawn: functions of few positions and blocks, so that all sets can be gone through. Some of what they
+// do leaves where it is guessed, or where it is not.
 func smallLoops(r *rand.Rand) impl.Module {
 	for {
 		fn := impl.Func{Params: 1, Locals: 1 + r.Intn(3)}
 		local := func(op int) impl.Ins { return ins(op, r.Intn(fn.Locals)) }
+		if r.Intn(2) == 0 {
+			// A number that is called leaves: with a value in its place there are more blocks.
+			fn.Code = append(fn.Code, ins(impl.OpInt, 1), ins(impl.OpStore, 0), ins(impl.OpLoad, 0), call(0), local(impl.OpStore))
+		}
 		for range 3 + r.Intn(4) {
 			fn.Code = append(fn.Code, [][]impl.Ins{
 				{ins(impl.OpInt, 1), local(impl.OpStore)},
@@ -155,7 +161,9 @@ func smallLoops(r *rand.Rand) impl.Module {
 				{local(impl.OpLoad), local(impl.OpLoad), local(impl.OpStore), local(impl.OpStore)},
 				{local(impl.OpLoad), local(impl.OpLoad), ins(impl.OpAdd, 0), local(impl.OpStore)},
 				{ins(impl.OpBool, 1), ifTo(0)}, {ins(impl.OpBool, 1), ifNot(0)}, {jump(0)},
-			}[r.Intn(7)]...)
+				{nilIns, local(impl.OpLoad), ins(impl.OpAdd, 0), local(impl.OpStore)},
+				{local(impl.OpLoad), call(0), local(impl.OpStore)},
+			}[r.Intn(9)]...)
 		}
 		fn.Code = append(fn.Code, ins(impl.OpLoad, 0), returnIns)
 		for at, x := range fn.Code {
@@ -163,7 +171,8 @@ func smallLoops(r *rand.Rand) impl.Module {
 				fn.Code[at].A = r.Intn(len(fn.Code) - 1)
 			}
 		}
-		if m := (impl.Module{Funcs: []impl.Func{fn}}); impl.Verify(m).Code == impl.OK {
+		laid := impl.Func{Code: []impl.Ins{[]impl.Ins{nilIns, ins(impl.OpInt, 1)}[r.Intn(2)], returnIns}}
+		if m := (impl.Module{Funcs: []impl.Func{fn, laid}}); impl.Verify(m).Code == impl.OK {
 			return m
 		}
 	}
@@ -171,26 +180,30 @@ func smallLoops(r *rand.Rand) impl.Module {
 
 func TestTheGreatestNumbers(t *testing.T) {
 	r := rand.New(rand.NewSource(61))
-	several, tried := 0, map[int]int{}
-	for range 700 {
+	several, others, tried := 0, 0, map[int]int{}
+	for range 8000 {
 		m := smallLoops(r)
-		p := randomPlan(r, m)
+		p := []func(*rand.Rand, impl.Module) impl.Plan{randomPlan, boldPlan}[r.Intn(2)](r, m)
 		for _, entry := range impl.EntriesOf(m, 0) {
 			a := asking{m, 0, entry, p}
 			room := 0
-			for _, set := range draftingOf(a).numbers {
-				room += len(set)
+			for at, set := range draftingOf(a).allNumbers() {
+				if at != entry {
+					room += len(set)
+				}
 			}
-			if room > 11 {
+			if room > 10 {
 				continue
 			}
-			tried[len(draftingOf(a).blocks)]++
-			if checkGreatest(t, a) > 1 {
-				several++
-			}
+			holding, other := checkGreatest(t, a)
+			several += min(holding-1, 1)
+			others += min(other, 1)
+			w := draftingOf(a)
+			w.solve()
+			tried[len(w.blocks)]++
 		}
 	}
-	if several < 30 || tried[2] < 30 || tried[3] < 30 || tried[4] < 10 {
-		t.Errorf("%d with more than one answer, of %v blocks: they try too little", several, tried)
+	if several < 30 || others < 20 || tried[1] < 30 || tried[2] < 30 || tried[3] < 30 || tried[4] < 10 {
+		t.Errorf("%d with more than one answer, %d of them with other blocks, of %v blocks: they try too little", several, others, tried)
 	}
 }
