@@ -204,9 +204,15 @@ func TestMakingOfManyPrograms(t *testing.T) {
 // checkMadeTandem runs a program by code that was made, which is to mean the same (promises 11 and 33).
 func checkMadeTandem(t *testing.T, r *rand.Rand, m impl.Module, args []impl.Value, p impl.Plan) [6]int {
 	t.Helper()
-	vm, ways := inTandem(t, m, args, allMade(m, p), func() int { return []int{0, 1, 7, 30, 90}[r.Intn(5)] })
+	return checkEndTandem(t, r, m, args, allMade(m, p))
+}
+
+// checkEndTandem runs a program by these codes, and holds its end against that of a plain run.
+func checkEndTandem(t *testing.T, r *rand.Rand, m impl.Module, args []impl.Value, codes []impl.Fast) [6]int {
+	t.Helper()
+	vm, ways := inTandem(t, m, args, codes, func() int { return []int{0, 1, 7, 30, 90}[r.Intn(5)] })
 	if plain := impl.Run(m, args, 4000); vm.Status != impl.StRun && plain.Status != impl.StRun && !impl.Alike(m, vm, plain) {
-		t.Fatalf("%v with %v, %+v: comes to %+v, not %+v", m, args, p, vm, plain)
+		t.Fatalf("%v with %v, by %+v: comes to %+v, not %+v", m, args, codes, vm, plain)
 	}
 	return ways
 }

@@ -85,6 +85,69 @@ func fillFast(c impl.Fast) {
 	clear(c.Exits[:cap(c.Exits)])
 }
 
+// checkListsApart asks of code, which was made of something, that no two of its lists share memory: each gets another
+// number here, and has its own then.
+func checkListsApart(t *testing.T, of any, c impl.Fast) {
+	t.Helper()
+	var lists [][]impl.Src
+	for _, e := range c.Exits[:cap(c.Exits)] {
+		e.Frames, e.Recs = e.Frames[:cap(e.Frames)], e.Recs[:cap(e.Recs)]
+		lists = append(lists, sourceLists(e)...)
+	}
+	for n, list := range lists {
+		for i := range list[:cap(list)] {
+			list[:cap(list)][i] = valSrc(n)
+		}
+	}
+	for n, list := range lists {
+		if slices.ContainsFunc(list[:cap(list)], func(s impl.Src) bool { return s != valSrc(n) }) {
+			t.Fatalf("%+v: two lists of sources share memory", of)
+		}
+	}
+	checkExitsApart(t, of, c)
+}
+
+// checkExitsApart asks it of the lists of frames and of records.
+func checkExitsApart(t *testing.T, of any, c impl.Fast) {
+	t.Helper()
+	for n, e := range c.Exits {
+		for i := range e.Frames[:cap(e.Frames)] {
+			e.Frames[:cap(e.Frames)][i] = impl.ExFrame{Pc: n}
+		}
+		for i := range e.Recs[:cap(e.Recs)] {
+			e.Recs[:cap(e.Recs)][i] = impl.ExRec{Fields: nilSrcs(n)}
+		}
+	}
+	for n, e := range c.Exits {
+		otherFrame := slices.ContainsFunc(e.Frames[:cap(e.Frames)], func(f impl.ExFrame) bool { return f.Pc != n })
+		if otherFrame || slices.ContainsFunc(e.Recs[:cap(e.Recs)], func(x impl.ExRec) bool { return len(x.Fields) != n }) {
+			t.Fatalf("%+v: two exits share memory", of)
+		}
+	}
+}
+
+// checkNothingBehind asks of code, which was made of something, that nothing lies behind the length of any of its lists.
+func checkNothingBehind(t *testing.T, of any, c impl.Fast) {
+	t.Helper()
+	if slices.ContainsFunc(c.Ops[len(c.Ops):cap(c.Ops)], func(x impl.FOp) bool { return x != impl.FOp{} }) {
+		t.Errorf("%+v: an op lies behind those that are told", of)
+	}
+	if slices.ContainsFunc(c.Exits[len(c.Exits):cap(c.Exits)], func(e impl.Exit) bool { return !sameExit(e, impl.Exit{}) }) {
+		t.Errorf("%+v: an exit lies behind those that are told", of)
+	}
+	for _, e := range c.Exits {
+		if slices.ContainsFunc(e.Frames[len(e.Frames):cap(e.Frames)], func(f impl.ExFrame) bool { return !sameExFrame(f, impl.ExFrame{}) }) ||
+			slices.ContainsFunc(e.Recs[len(e.Recs):cap(e.Recs)], func(x impl.ExRec) bool { return !sameExRec(x, impl.ExRec{}) }) {
+			t.Errorf("%+v: a frame or a record lies behind those of an exit", of)
+		}
+		for _, list := range sourceLists(e) {
+			if slices.ContainsFunc(list[len(list):cap(list)], func(s impl.Src) bool { return s != impl.Src{} }) {
+				t.Errorf("%+v: a source lies behind %v", of, list)
+			}
+		}
+	}
+}
+
 // coded is code, ok or not, and the module that it is asked of.
 type coded struct {
 	m impl.Module
@@ -182,23 +245,29 @@ func TestNothingIsHandedOutBehindWhatCodeTells(t *testing.T) {
 	}
 }
 
+// textsOfFast are all texts of code, where they lie.
+func textsOfFast(c impl.Fast) []*string {
+	var out []*string
+	for i := range c.Ops {
+		out = append(out, &c.Ops[i].V.S)
+	}
+	for _, e := range c.Exits {
+		for _, list := range sourceLists(e) {
+			for i := range list {
+				out = append(out, &list[i].V.S)
+			}
+		}
+	}
+	return out
+}
+
 func TestTextsOfCodeAreNewMemory(t *testing.T) {
 	for _, was := range someCodes() {
 		c := cloneFast(was.c)
 		var given []string
-		own := func(v *impl.Value) {
-			v.S = strings.Clone(v.S)
-			given = append(given, v.S)
-		}
-		for i := range c.Ops {
-			own(&c.Ops[i].V)
-		}
-		for _, e := range c.Exits {
-			for _, list := range sourceLists(e) {
-				for i := range list {
-					own(&list[i].V)
-				}
-			}
+		for _, s := range textsOfFast(c) {
+			*s = strings.Clone(*s)
+			given = append(given, *s)
 		}
 		got := impl.FastText(was.m, c)
 		for _, whole := range given {

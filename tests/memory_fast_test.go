@@ -183,15 +183,8 @@ func ownedTexts(was entering) (entering, []string) {
 			own(&list[i].S)
 		}
 	}
-	for i := range e.c.Ops {
-		own(&e.c.Ops[i].V.S)
-	}
-	for _, x := range e.c.Exits {
-		for _, list := range sourceLists(x) {
-			for i := range list {
-				own(&list[i].V.S)
-			}
-		}
+	for _, s := range textsOfFast(e.c) {
+		own(s)
 	}
 	return e, given
 }

@@ -103,22 +103,7 @@ func fillNumbers(list [][]int) {
 func TestTheListsOfWhatIsMadeShareNothing(t *testing.T) {
 	for _, a := range someAskings() {
 		c, _ := a.make()
-		var lists [][]impl.Src
-		for _, e := range c.Exits[:cap(c.Exits)] {
-			e.Frames, e.Recs = e.Frames[:cap(e.Frames)], e.Recs[:cap(e.Recs)]
-			lists = append(lists, sourceLists(e)...)
-		}
-		for n, list := range lists {
-			for i := range list[:cap(list)] {
-				list[:cap(list)][i] = valSrc(n)
-			}
-		}
-		for n, list := range lists {
-			if slices.ContainsFunc(list[:cap(list)], func(s impl.Src) bool { return s != valSrc(n) }) {
-				t.Fatalf("%+v: two lists of sources share memory", a)
-			}
-		}
-		checkExitsApart(t, a, c)
+		checkListsApart(t, a, c)
 		told := a.numbers()
 		for n, set := range told {
 			for i := range set[:cap(set)] {
@@ -133,47 +118,12 @@ func TestTheListsOfWhatIsMadeShareNothing(t *testing.T) {
 	}
 }
 
-// checkExitsApart asks it of the lists of frames and of records.
-func checkExitsApart(t *testing.T, a asking, c impl.Fast) {
-	t.Helper()
-	for n, e := range c.Exits {
-		for i := range e.Frames[:cap(e.Frames)] {
-			e.Frames[:cap(e.Frames)][i] = impl.ExFrame{Pc: n}
-		}
-		for i := range e.Recs[:cap(e.Recs)] {
-			e.Recs[:cap(e.Recs)][i] = impl.ExRec{Fields: nilSrcs(n)}
-		}
-	}
-	for n, e := range c.Exits {
-		otherFrame := slices.ContainsFunc(e.Frames[:cap(e.Frames)], func(f impl.ExFrame) bool { return f.Pc != n })
-		if otherFrame || slices.ContainsFunc(e.Recs[:cap(e.Recs)], func(x impl.ExRec) bool { return len(x.Fields) != n }) {
-			t.Fatalf("%+v: two exits share memory", a)
-		}
-	}
-}
-
 // What lies behind an answer's length is none of what was handed in, nor of what was known on the way.
 func TestNothingIsHandedOutBehindWhatIsMade(t *testing.T) {
 	for _, was := range someAskings() {
 		a := roomyAsking(was)
 		c, _ := a.make()
-		if slices.ContainsFunc(c.Ops[len(c.Ops):cap(c.Ops)], func(x impl.FOp) bool { return x != impl.FOp{} }) {
-			t.Errorf("%+v: an op lies behind those that are told", was)
-		}
-		if slices.ContainsFunc(c.Exits[len(c.Exits):cap(c.Exits)], func(e impl.Exit) bool { return !sameExit(e, impl.Exit{}) }) {
-			t.Errorf("%+v: an exit lies behind those that are told", was)
-		}
-		for _, e := range c.Exits {
-			if slices.ContainsFunc(e.Frames[len(e.Frames):cap(e.Frames)], func(f impl.ExFrame) bool { return !sameExFrame(f, impl.ExFrame{}) }) ||
-				slices.ContainsFunc(e.Recs[len(e.Recs):cap(e.Recs)], func(x impl.ExRec) bool { return !sameExRec(x, impl.ExRec{}) }) {
-				t.Errorf("%+v: a frame or a record lies behind those of an exit", was)
-			}
-			for _, list := range sourceLists(e) {
-				if slices.ContainsFunc(list[len(list):cap(list)], func(s impl.Src) bool { return s != impl.Src{} }) {
-					t.Errorf("%+v: a source lies behind %v", was, list)
-				}
-			}
-		}
+		checkNothingBehind(t, was, c)
 		for _, set := range a.numbers() {
 			if slices.ContainsFunc(set[len(set):cap(set)], func(p int) bool { return p != 0 }) {
 				t.Errorf("%+v: a number lies behind %v", was, set)
@@ -190,24 +140,13 @@ func TestTextsOfWhatIsMadeAreNewMemory(t *testing.T) {
 			a.m.Texts[i] = strings.Clone(a.m.Texts[i])
 		}
 		c, _ := a.make()
-		var got []string
-		for _, x := range c.Ops {
-			got = append(got, x.V.S)
-		}
-		for _, e := range c.Exits {
-			for _, list := range sourceLists(e) {
-				for _, s := range list {
-					got = append(got, s.V.S)
-				}
-			}
-		}
-		for _, s := range got {
+		for _, s := range textsOfFast(c) {
 			for _, whole := range a.m.Texts {
-				if liesIn(s, whole) {
-					t.Fatalf("%+v: %q is in an argument's memory", a, s)
+				if liesIn(*s, whole) {
+					t.Fatalf("%+v: %q is in an argument's memory", a, *s)
 				}
 			}
-			texts += min(len(s), 1)
+			texts += min(len(*s), 1)
 		}
 	}
 	if texts < 100 {
