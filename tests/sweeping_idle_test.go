@@ -16,8 +16,8 @@ func sweepModule() impl.Module {
 	return mod("func 0 1; nil; nil; nil; invoke 1; return; func 0 2; nil; nil; return; func 0 0; nil; return")
 }
 
-// unspelled reads code that is written as spelled tells it: how many registers there are, ops, and exits; sources are
-// written as in wordSrc, V likewise, and what comes of instruction 0 needs not to tell it.
+// unspelled reads code of function 0 that is written as spelled tells it: how many registers there are, ops, and exits;
+// sources are written as in wordSrc, V likewise, and what comes of instruction 0 needs not to tell it.
 func unspelled(code string) impl.Fast {
 	list := lines(code)
 	var c impl.Fast
@@ -48,7 +48,11 @@ func unspelledOp(op int, words []string) impl.FOp {
 		words = words[1:]
 	}
 	if len(words) > 0 {
-		x.P = numberIn(words[0])
+		f, p, told := strings.Cut(words[0], ".")
+		if !told {
+			f, p = "0", f
+		}
+		x.F, x.P = numberIn(f), numberIn(p)
 	}
 	return x
 }

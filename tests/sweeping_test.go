@@ -406,25 +406,27 @@ func mustNotSweep(t *testing.T, name string, m impl.Module, c impl.Fast) {
 	}
 }
 
-func TestCodeThatIsNotSwept(t *testing.T) {
-	idle := unspelled("9 9\nconst v1 1\nmove v2 v1\nret v0\nx0 trap / 0 0 v0 |")
+// idleCode has idle ops and an exit by which nothing leaves.
+func idleCode() impl.Fast {
+	return unspelled("9 9\nconst v1 1\nmove v2 v1\nret v0\nx0 trap / 0 0 v0 |")
+}
+
+// refusedCodes are not ok: of modules that are not good, of another module, and with one thing wrong in idleCode.
+func refusedCodes(t *testing.T) map[string]coded {
+	t.Helper()
 	modules := notGood()
 	for _, x := range limitsOfModules() {
 		modules["past "+x.name] = x.past
 	}
-	for name, m := range wrongModules() {
-		modules[name] = m
-	}
 	broken := sweepModule()
 	broken.Funcs[2].Code = broken.Funcs[2].Code[:1]
 	modules["another function runs past its end"] = broken
+	out := map[string]coded{"the zero code": {sweepModule(), impl.Fast{}}, "code of another module": {codeModule(), idleCode()}}
 	for name, m := range modules {
-		for _, c := range []impl.Fast{idle, {}, retCode(0, 0, 20, 0), fullCode()} {
-			mustNotSweep(t, name, m, c)
+		for which, c := range []impl.Fast{idleCode(), {}, retCode(0, 0, 20, 0), fullCode()} {
+			out[fmt.Sprint(name, ", code ", which)] = coded{m, c}
 		}
 	}
-	mustNotSweep(t, "the zero code", sweepModule(), impl.Fast{})
-	mustNotSweep(t, "code of another module", codeModule(), idle)
 	for name, do := range map[string]func(c *impl.Fast){
 		"an idle op of no register":       func(c *impl.Fast) { c.Ops[0].D = 9 },
 		"an idle op of a register below":  func(c *impl.Fast) { c.Ops[0].D = -1 },
@@ -432,7 +434,9 @@ func TestCodeThatIsNotSwept(t *testing.T) {
 		"an op of no instruction":         func(c *impl.Fast) { c.Ops[0].P = 5 },
 		"an idle op with an exit":         func(c *impl.Fast) { c.Exits = append(c.Exits, c.Exits[0]); c.Ops[0].X = 1 },
 		"an op that is none":              func(c *impl.Fast) { c.Ops[0].Op = 30 },
+		"an op of Op 0":                   func(c *impl.Fast) { c.Ops[0] = impl.FOp{} },
 		"an op far from any":              func(c *impl.Fast) { c.Ops[0].Op = -5 },
+		"the last op is none":             func(c *impl.Fast) { c.Ops[2].Op = 30 },
 		"no end":                          func(c *impl.Fast) { c.Ops = c.Ops[:2] },
 		"no ops":                          func(c *impl.Fast) { c.Ops = nil },
 		"an exit that nobody has, wrong":  func(c *impl.Fast) { c.Exits[0].Frames[0].Locals[0] = valSrc(9) },
@@ -443,9 +447,16 @@ func TestCodeThatIsNotSwept(t *testing.T) {
 		"a function that is none":         func(c *impl.Fast) { c.Func = 3 },
 		"no registers":                    func(c *impl.Fast) { c.Vals = 0 },
 	} {
-		c := cloneFast(idle)
+		c := idleCode()
 		mustBeOk(t, "ahead of "+name, sweepModule(), c, true)
 		do(&c)
-		mustNotSweep(t, name, sweepModule(), c)
+		out[name] = coded{sweepModule(), c}
+	}
+	return out
+}
+
+func TestCodeThatIsNotSwept(t *testing.T) {
+	for name, x := range refusedCodes(t) {
+		mustNotSweep(t, name, x.m, x.c)
 	}
 }
