@@ -66,20 +66,26 @@ func needless(r *rand.Rand, locals int) []impl.Ins {
 	return append(out, ins(impl.OpDrop, 0))
 }
 
+// withMore is a module with more instructions at a place of a function. Jumps to what stood there lead to the first of
+// them, if they are led so, and otherwise to where they did.
+func withMore(m impl.Module, f int, at int, led bool, more ...impl.Ins) impl.Module {
+	out := cloneModule(m)
+	code := out.Funcs[f].Code
+	for i, x := range code {
+		if within(x.Op, impl.OpJump, impl.OpIfNot) && (x.A > at || x.A == at && !led) {
+			code[i].A += len(more)
+		}
+	}
+	out.Funcs[f].Code = slices.Insert(code, at, more...)
+	return out
+}
+
 // loosened is a good module that does what m does, with needless instructions here and there, where there is room.
 func loosened(r *rand.Rand, m impl.Module) impl.Module {
 	for f := range m.Funcs {
 		for range 1 + r.Intn(5) {
-			next := cloneModule(m)
-			fn := &next.Funcs[f]
-			at, more := r.Intn(len(fn.Code)), needless(r, fn.Locals)
-			for i, x := range fn.Code {
-				if x.A > at && within(x.Op, impl.OpJump, impl.OpIfNot) {
-					fn.Code[i].A += len(more)
-				}
-			}
-			fn.Code = slices.Insert(fn.Code, at, more...)
-			if impl.Verify(next).Code == impl.OK {
+			at, more := r.Intn(len(m.Funcs[f].Code)), needless(r, m.Funcs[f].Locals)
+			if next := withMore(m, f, at, true, more...); impl.Verify(next).Code == impl.OK {
 				m = next
 			}
 		}
