@@ -139,28 +139,35 @@ func TestTheListsThatCodeComesToShareNothing(t *testing.T) {
 	}
 }
 
+// checkNothingBehindState asks of a state, to which something came, that nothing lies behind the length of any of its
+// lists.
+func checkNothingBehindState(t *testing.T, of any, got impl.Vm) {
+	t.Helper()
+	for _, f := range got.Frames[len(got.Frames):cap(got.Frames)] {
+		if !sameFrame(f, impl.Frame{}) {
+			t.Errorf("%+v: a frame lies behind those that are told", of)
+		}
+	}
+	for _, x := range got.Heap[len(got.Heap):cap(got.Heap)] {
+		if !sameRec(x, impl.Rec{}) {
+			t.Errorf("%+v: a record lies behind those that are told", of)
+		}
+	}
+	for _, list := range valueLists(got) {
+		if slices.ContainsFunc(list[len(list):cap(list)], func(v impl.Value) bool { return v != impl.Value{} }) {
+			t.Errorf("%+v: a value lies behind %v", of, list)
+		}
+	}
+	if slices.ContainsFunc(got.Out[len(got.Out):cap(got.Out)], func(s string) bool { return s != "" }) {
+		t.Errorf("%+v: a text lies behind those that are told", of)
+	}
+}
+
 // What lies behind an answer's length is none of what was handed in, nor of what code had on the way.
 func TestNothingIsHandedOutBehindWhatCodeComesTo(t *testing.T) {
 	for _, was := range someEnterings() {
 		got, _ := roomyEntering(was).run()
-		for _, f := range got.Frames[len(got.Frames):cap(got.Frames)] {
-			if !sameFrame(f, impl.Frame{}) {
-				t.Errorf("%+v: a frame lies behind those that are told", was)
-			}
-		}
-		for _, x := range got.Heap[len(got.Heap):cap(got.Heap)] {
-			if !sameRec(x, impl.Rec{}) {
-				t.Errorf("%+v: a record lies behind those that are told", was)
-			}
-		}
-		for _, list := range valueLists(got) {
-			if slices.ContainsFunc(list[len(list):cap(list)], func(v impl.Value) bool { return v != impl.Value{} }) {
-				t.Errorf("%+v: a value lies behind %v", was, list)
-			}
-		}
-		if slices.ContainsFunc(got.Out[len(got.Out):cap(got.Out)], func(s string) bool { return s != "" }) {
-			t.Errorf("%+v: a text lies behind those that are told", was)
-		}
+		checkNothingBehindState(t, was, got)
 	}
 }
 

@@ -114,7 +114,9 @@ func blackByLaw(t impl.Tier) []impl.Spec {
 }
 
 // rests tells whether code does on a guess, whatever its Target is.
-func rests(m impl.Module, c impl.Fast, guess impl.Spec) bool { return isBlack(impl.SpecsOf(m, c), guess) }
+func rests(m impl.Module, c impl.Fast, guess impl.Spec) bool {
+	return isBlack(impl.SpecsOf(m, c), guess)
+}
 
 // happened is what came about in an act.
 type happened struct {
@@ -127,6 +129,16 @@ type happened struct {
 	placed  int
 	full    int
 	forged  int
+}
+
+// add counts what came about in another act as well.
+func (h *happened) add(x happened) {
+	h.guards = append(h.guards, x.guards...)
+	for kind, n := range x.ways {
+		h.ways[kind] += n
+	}
+	h.dropped, h.nothing, h.steps = h.dropped+x.dropped, h.nothing+x.nothing, h.steps+x.steps
+	h.made, h.placed, h.full, h.forged = h.made+x.made, h.placed+x.placed, h.full+x.full, h.forged+x.forged
 }
 
 // actedByLaw is Do of what is ok, by the document's words; what other chapters say is asked there.
