@@ -216,6 +216,19 @@ func TestCountsAreAskedForAtOnce(t *testing.T) {
 	}
 }
 
+// checkNoneLeft asks that there are no more goroutines than ahead of all calls. One that has said that it is at its end
+// may need a moment to be gone.
+func checkNoneLeft(t *testing.T, before int) {
+	t.Helper()
+	for range 500 {
+		if runtime.NumGoroutine() <= before {
+			return
+		}
+		time.Sleep(10 * time.Millisecond)
+	}
+	t.Errorf("%d goroutines, ahead of all calls %d", runtime.NumGoroutine(), before)
+}
+
 // What a call began is at its end when it answers: what is then written into the code shows nowhere, and no goroutine is
 // left.
 func TestCountingIsAtItsEndWhenItAnswers(t *testing.T) {
@@ -231,14 +244,7 @@ func TestCountingIsAtItsEndWhenItAnswers(t *testing.T) {
 			t.Fatalf("%v, not %v", got, want)
 		}
 	}
-	// One that has said that it is at its end may need a moment to be gone.
-	for range 500 {
-		if runtime.NumGoroutine() <= before {
-			return
-		}
-		time.Sleep(10 * time.Millisecond)
-	}
-	t.Errorf("%d goroutines, ahead of all calls %d", runtime.NumGoroutine(), before)
+	checkNoneLeft(t, before)
 }
 
 func FuzzCount(f *testing.F) {

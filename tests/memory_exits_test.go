@@ -134,22 +134,7 @@ func TestTheListsThatAreBuiltShareNothing(t *testing.T) {
 // What lies behind an answer's length is none of what was handed in.
 func TestNothingIsHandedOutBehindWhatIsBuilt(t *testing.T) {
 	for _, was := range someLeavings() {
-		got := roomyLeaving(was).rebuild()
-		for _, f := range got.Frames[len(got.Frames):cap(got.Frames)] {
-			if !sameFrame(f, impl.Frame{}) {
-				t.Errorf("%+v: a frame lies behind those that are told", was)
-			}
-		}
-		for _, x := range got.Heap[len(got.Heap):cap(got.Heap)] {
-			if !sameRec(x, impl.Rec{}) {
-				t.Errorf("%+v: a record lies behind those that are told", was)
-			}
-		}
-		for _, list := range valueLists(got) {
-			if slices.ContainsFunc(list[len(list):cap(list)], func(v impl.Value) bool { return v != impl.Value{} }) {
-				t.Errorf("%+v: a value lies behind %v", was, list)
-			}
-		}
+		checkNothingBehindState(t, was, roomyLeaving(was).rebuild())
 	}
 }
 

@@ -7,7 +7,6 @@ import (
 	"strings"
 	"sync"
 	"testing"
-	"time"
 
 	"loop.example/g00094/impl"
 )
@@ -437,12 +436,5 @@ func TestTiersLeaveNoGoroutineBehind(t *testing.T) {
 		impl.Do(m, x, impl.Act{})
 		impl.Play(m, nil, acts(tierAct(0, 0, false)))
 	}
-	// One that has said that it is at its end may need a moment to be gone.
-	for range 500 {
-		if runtime.NumGoroutine() <= before {
-			return
-		}
-		time.Sleep(10 * time.Millisecond)
-	}
-	t.Errorf("%d goroutines, ahead of all calls %d", runtime.NumGoroutine(), before)
+	checkNoneLeft(t, before)
 }
