@@ -311,26 +311,10 @@ func someScripts() []script {
 	return out
 }
 
-func roomyScript(s script) script {
-	out := script{roomy(s.m), roomyValues(s.args), nil}
-	for _, a := range s.acts {
-		a.Sites = roomySites(a.Sites)
-		out.acts = append(out.acts, a)
-	}
-	out.acts = append(out.acts, runAct(3), dropAct(0))[:len(s.acts)]
-	return out
-}
+func roomyScript(s script) script { return script{roomy(s.m), roomyValues(s.args), roomyActs(s.acts)} }
 
 func untouchedScript(s script, was script) bool {
-	for i, a := range s.acts {
-		x := was.acts[i]
-		if a.Kind != x.Kind || a.A != x.A || a.B != x.B || a.Lay != x.Lay || a.Bare != x.Bare || !untouchedSites(a.Sites, x.Sites) {
-			return false
-		}
-	}
-	behind := s.acts[len(s.acts) : len(s.acts)+2]
-	return untouched(s.m, was.m) && slices.Equal(s.args[:len(was.args)+2], slices.Concat(was.args, spareValues())) &&
-		behind[0].Kind == impl.AcRun && behind[1].Kind == impl.AcDrop
+	return untouched(s.m, was.m) && slices.Equal(s.args[:len(was.args)+2], slices.Concat(was.args, spareValues())) && untouchedActs(s.acts, was.acts)
 }
 
 func TestWhatIsPlayedIsNotWrittenIntoAndKeptApart(t *testing.T) {
@@ -352,9 +336,7 @@ func TestWhatIsPlayedIsNotWrittenIntoAndKeptApart(t *testing.T) {
 			t.Errorf("%+v: shares memory with what it came to, or two answers do", was)
 		}
 		fillLists(s.m)
-		for _, a := range s.acts {
-			fillSites(a.Sites)
-		}
+		fillActs(s.acts)
 		for i := range s.args[:cap(s.args)] {
 			s.args[:cap(s.args)][i] = num(-77)
 		}
