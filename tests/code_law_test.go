@@ -356,12 +356,13 @@ func checkCode(t *testing.T, m impl.Module, c impl.Fast) bool {
 	return true
 }
 
-// mustBeOk holds code against the law, and against what is written of it.
+// mustBeOk holds code and its numbers against the law, and asks whether it is ok.
 func mustBeOk(t *testing.T, name string, m impl.Module, c impl.Fast, want bool) {
 	t.Helper()
 	if got := checkCode(t, m, c); got != want {
 		t.Errorf("%s: %v of %+v", name, got, c)
 	}
+	codes().checkBothWays(t, m, c, want)
 }
 
 func sameExFrame(a impl.ExFrame, b impl.ExFrame) bool {

@@ -55,7 +55,7 @@ type change struct {
 }
 
 // checkChanges asks of each change by itself whether the state is ok with it. What is not ok is not stepped, and
-// has no text.
+// has neither a text nor numbers.
 func checkChanges(t *testing.T, base func() impl.Vm, list []change, ok bool) {
 	t.Helper()
 	for _, x := range list {
@@ -71,6 +71,7 @@ func checkChanges(t *testing.T, base func() impl.Vm, list []change, ok bool) {
 			t.Errorf("%s: told as %q", x.name, got)
 		}
 		checkState(t, stateModule(), vm)
+		vms().checkBothWays(t, stateModule(), vm, ok)
 	}
 }
 
