@@ -45,6 +45,7 @@ func TestTheProgramKeepsToItsLanguage(t *testing.T) {
 		checkImports(t, name, file)
 		checkComments(t, name, file)
 		checkLengths(t, name, files, file)
+		checkVariables(t, name, file)
 	}
 }
 
@@ -76,4 +77,41 @@ func checkLengths(t *testing.T, name string, files *token.FileSet, file *ast.Fil
 			t.Errorf("%s: %s has %d lines", name, f.Name.Name, lines)
 		}
 	}
+}
+
+// madeOnce are the variables at package level that have no value of their own, as the document's chapter 'Ways' asks.
+var madeOnce = []string{"readersOnce", "readersMade"}
+
+// checkVariables asks that what stands at package level is a table that is written out, or an error of one text.
+func checkVariables(t *testing.T, name string, file *ast.File) {
+	for _, d := range file.Decls {
+		list, ok := d.(*ast.GenDecl)
+		if !ok || list.Tok != token.VAR {
+			continue
+		}
+		for _, x := range list.Specs {
+			v := x.(*ast.ValueSpec)
+			for i, own := range v.Names {
+				if !slices.Contains(madeOnce, own.Name) && (len(v.Values) != len(v.Names) || !writtenOut(v.Values[i])) {
+					t.Errorf("%s: the variable %s has no value that is written out", name, own.Name)
+				}
+			}
+		}
+	}
+}
+
+// writtenOut tells whether a value is a literal, or made by errors.New of one.
+func writtenOut(x ast.Expr) bool {
+	switch x := x.(type) {
+	case *ast.BasicLit, *ast.CompositeLit:
+		return true
+	case *ast.CallExpr:
+		from, ok := x.Fun.(*ast.SelectorExpr)
+		if !ok || len(x.Args) != 1 || from.Sel.Name != "New" {
+			return false
+		}
+		pkg, ok := from.X.(*ast.Ident)
+		return ok && pkg.Name == "errors" && writtenOut(x.Args[0])
+	}
+	return false
 }
